@@ -1,0 +1,1 @@
+"""Kindsunder: which type is under which, in tables of classes whose parameters have signs."""

@@ -1,0 +1,94 @@
+"""The head of the interface: what is where, and the general rules (point 2) for every function at once."""
+
+import ast
+import copy
+import importlib
+import inspect
+import unittest
+
+from kindsunder import errors
+from tests import oracle, samples
+from tests.base import Case
+
+FUNCTIONS = {
+    "tables": {"is_table": "value", "is_type": "table value", "depth": "table shape", "text": "table shape",
+               "put_in": "table shape arguments"},
+    "places": {"product": "first second", "allows": "sign other", "parts": "table shape",
+               "sign_at": "table shape place"},
+    "sound": {"order": "table", "ring": "table", "obstacles": "table class_number parameter sign", "clash": "table",
+              "double_name": "table", "fault": "table"},
+    "above": {"classes_above": "table class_number", "way": "table class_number other",
+              "above": "table shape class_number"},
+    "under": {"needs": "table s t", "is_derivation": "table s t value", "is_refusal": "table s t value"},
+    "growth": {"steps": "table", "growing_ring": "table", "levels": "table", "road": "table number"},
+    "closures": {"moves": "table shape", "closure": "table types"},
+    "deciding": {"is_under": "table s t", "derivation": "table s t", "refusal": "table s t",
+                 "joined": "table first second"},
+}
+SOUND = ("above", "needs", "is_derivation", "is_refusal", "is_under", "derivation", "refusal", "joined")
+TAME = ("closure", "is_under", "derivation", "refusal")
+
+
+def functions():
+    for module, names in FUNCTIONS.items():
+        for name, words in names.items():
+            yield name, getattr(importlib.import_module("kindsunder." + module), name), words.split()
+
+
+class Interface(Case):
+    def test_each_function_is_defined_in_its_file(self):
+        for module, names in FUNCTIONS.items():
+            for name in names:
+                function = getattr(importlib.import_module("kindsunder." + module), name)
+                self.assertTrue(inspect.isfunction(function), name)
+                self.assertEqual((function.__module__, function.__name__), ("kindsunder." + module, name))
+
+    def test_each_function_takes_its_arguments_by_position(self):
+        for name, function, words in functions():
+            inspect.signature(function).bind(*words)
+            self.assertRaises(TypeError, inspect.signature(function).bind, *words[1:])
+
+    def test_tables_come_first(self):
+        """InvalidTable, then Unsound, then NotTame stand ahead of all other errors, and only where they are named."""
+        for name, function, words in functions():
+            if words[0] != "table":
+                continue
+            wrong = [None for _ in words[1:]]
+            for value in samples.ODD:
+                if value != ():
+                    self.fails(errors.InvalidTable, function, value, *wrong)
+            for table in (samples.RING, samples.OBSTACLE, samples.CLASH, samples.NAME, samples.OBSTACLE_WILD, samples.WILD):
+                tells = None
+                try:
+                    function(table, *wrong)
+                except errors.KindError as error:
+                    tells = error
+                if name in SOUND and not oracle.sound(table):
+                    self.assertIs(type(tells), errors.Unsound, name)
+                    self.assertTrue(oracle.fault_ok(table, tells.fault))
+                elif name in TAME and not oracle.tame(table):
+                    self.assertIs(type(tells), errors.NotTame, name)
+                else:
+                    self.assertNotIn(type(tells), (errors.InvalidTable, errors.Unsound, errors.NotTame), name)
+
+    def test_lists_are_not_modified_by_calls_that_fail(self):
+        for name, function, words in functions():
+            for start in (samples.EXAMPLE, samples.RING, [samples.EXAMPLE]):
+                given = [start] + [[["x"], ("x", [0])] for _ in words[1:]]
+                before = copy.deepcopy(given)
+                try:
+                    function(*given)
+                except errors.KindError:
+                    pass
+                self.same(given, before, name)
+
+    def test_equal_tables_that_are_different_objects(self):
+        for table in samples.TABLES[::4]:
+            other = ast.literal_eval(repr(table))
+            for name, function, words in functions():
+                if words == ["table"] and (oracle.in_order(table) or name not in ("clash", "double_name")):
+                    self.same(function(table), function(other), name)
+
+
+if __name__ == "__main__":
+    unittest.main()
