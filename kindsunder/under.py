@@ -22,18 +22,18 @@ def needs_of(table, s, t):
     return found
 
 
-def is_row(counts, value):
-    """True if any value is a tuple of two types, of any size, and a tuple."""
-    if not isinstance(value, tuple) or len(value) != 3 or not isinstance(value[2], tuple):
-        return False
-    return is_shape(counts, value[0]) and is_shape(counts, value[1])
-
-
 def is_pair(counts, value):
     """True if any value is a tuple of two types, of any size."""
     if not isinstance(value, tuple) or len(value) != 2:
         return False
     return is_shape(counts, value[0]) and is_shape(counts, value[1])
+
+
+def is_row(counts, value):
+    """True if any value is a tuple of two types, of any size, and a tuple."""
+    if not isinstance(value, tuple) or len(value) != 3:
+        return False
+    return is_pair(counts, value[:2]) and isinstance(value[2], tuple)
 
 
 def is_derived(table, pairs, s, t, used):

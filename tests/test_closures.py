@@ -68,6 +68,26 @@ class Closure(Case):
                 some = tuple([rng.choice(types) for _ in range(many)])
                 self.same(self.steady(closure, table, some), oracle.closure(table, some), (table, some))
 
+    def test_depths_of_closures(self):
+        """Point 16: a depth of at most 1 + k + m n."""
+        for table in TAME:
+            types = tuple(samples.types_of(table, 12, 28)[-4:])
+            most = max([oracle.depth(one) for row in table for one in row[1]], default=0)
+            start = max([most] + [oracle.depth(one) for one in types])
+            rise = max([one for row in oracle.levels(table) for one in row], default=0)
+            for one in closure(table, types):
+                self.assertLessEqual(oracle.depth(one), 1 + start + most * rise)
+
+    def test_needs_stay_within(self):
+        """Point 16: in a sound table the pairs that a pair of a closure needs are pairs of the closure."""
+        for table in samples.GOOD:
+            found = closure(table, tuple(samples.types_of(table, 9, 29)[-2:]))
+            known = set(found)
+            for s in found[:12]:
+                for t in found[-12:]:
+                    for pair in oracle.needs(table, s, t) or []:
+                        self.assertTrue(known.issuperset(pair), (table, s, t, pair))
+
     def test_greatest_types(self):
         table = (TWO, (("+",), ((0, "a", (2,)),), ()), ((), (), ()))
         wide = with_parts([2, 1, 0], 0, 25)

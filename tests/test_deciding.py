@@ -79,6 +79,35 @@ class Deciding(Case):
             for one in samples.types_of(table, 8, 22):
                 self.assertTrue(self.decide(table, one, one))
 
+    def test_a_type_under_one_under_a_third_one(self):
+        many = 0
+        for table in samples.GOOD:
+            types = samples.types_of(table, 10, 30)
+            types += [one for shape in types for one in oracle.moves(table, shape) if oracle.passable(table, one)]
+            types = types[:16]
+            below = {(s, t): is_under(table, types[s], types[t]) for s in range(len(types)) for t in range(len(types))}
+            for s, t in below:
+                for u in range(len(types)):
+                    if below[(s, t)] and below[(t, u)]:
+                        many += 1
+                        self.assertTrue(below[(s, u)], (table, types[s], types[t], types[u]))
+        self.assertGreater(many, 1000)
+
+    def test_types_under_each_other(self):
+        """They are equal but for arguments of parameters with the sign "*"."""
+        def bare(table, one):
+            if isinstance(one, str):
+                return one
+            signs = table[one[0]][0]
+            return one[:1] + tuple([None if signs[at] == "*" else bare(table, one[1 + at]) for at in range(len(signs))])
+
+        for table in samples.GOOD:
+            types = samples.types_of(table, 14, 31, "xy", 3, 9)
+            for s in types:
+                for t in types:
+                    alike = is_under(table, s, t) and is_under(table, t, s)
+                    self.assertIs(alike, bare(table, s) == bare(table, t), (table, s, t))
+
     def test_all_small_types(self):
         """All pairs of types with a depth of at most two of some tables."""
         for table in (EXAMPLE, samples.ROUND, samples.RICH[:4], samples.DIAMOND):

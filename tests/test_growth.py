@@ -148,6 +148,18 @@ class Road(Case):
             for number in (0, 4, 30):
                 self.assertTrue(oracle.road_ok(table, number, road(table, number)), table)
 
+    def test_parts_at_deeper_places(self):
+        """The rings lead by parts of supers at the places (0, 0), (1,), (1, 0) and (0, 1)."""
+        bare = ((), (), ())
+        for table in (
+                (ONE, (("+",), ((0, (0, (2, "a"))),), ()), (("+",), ((0, (1, (0, "a"))),), ())),
+                (TWO, bare, (("+",), ((0, (1,), (3, "a")),), ()), (("+",), ((0, (1,), (2, (3, "a"))),), ())),
+                (TWO, ONE, (("+", "+"), ((0, "b", (1, (3, "a"))),), ()), (("+",), ((1, (2, (1, "a"), (4,))),), ()), bare),
+                (TWO, ONE, (("+", "+"), ((1, (0, "b", (3, "a"))),), ()), (("+",), ((1, (2, (1, "a"), (4,))),), ()), bare)):
+            self.assertTrue(oracle.step_ring_ok(table, growing_ring(table)))
+            for number in (0, 3, 10, 30):
+                self.assertTrue(oracle.road_ok(table, number, road(table, number)), table)
+
     def test_wrong_numbers(self):
         for table in (GROW, EXAMPLE, ()):
             for value in samples.ODD + [-1, 0, 1, 30, 31, 300, "3", (3,), [3]]:

@@ -4,6 +4,7 @@ import ast
 import copy
 import importlib
 import inspect
+import random
 import unittest
 
 from kindsunder import errors
@@ -33,6 +34,14 @@ def functions():
     for module, names in FUNCTIONS.items():
         for name, words in names.items():
             yield name, getattr(importlib.import_module("kindsunder." + module), name), words.split()
+
+
+def outcome(function, arguments):
+    """What a call returns, or the name of its error with the fault that it keeps."""
+    try:
+        return function(*copy.deepcopy(arguments))
+    except errors.KindError as error:
+        return type(error).__name__, getattr(error, "fault", None)
 
 
 class Interface(Case):
@@ -81,6 +90,25 @@ class Interface(Case):
                 except errors.KindError:
                     pass
                 self.same(given, before, name)
+
+    def test_the_same_after_other_calls(self):
+        """The calls of all functions for several tables, once in their order and once in another one."""
+        values = {"value": [("x", "x", ())], "shape": "x", "arguments": ("x",), "place": (), "class_number": 0, "other": 0,
+                  "parameter": 0, "sign": "*", "s": "x", "t": "x", "number": 4, "types": ("x",),
+                  "first": [("x", "x", ())], "second": [("x", "x", ())]}
+        calls = []
+        for table in samples.TABLES[::5]:
+            shapes = samples.types_of(table, 6, 32)
+            for name, function, words in functions():
+                if words[0] == "table":
+                    for shape in shapes[-3:]:
+                        own = {"shape": shape, "s": shape, "t": shape, "types": (shape, "x"), "arguments": (shape,)}
+                        calls.append((function, [table] + [own.get(word, values[word]) for word in words[1:]]))
+        before = [outcome(*call) for call in calls]
+        places = list(range(len(calls)))
+        random.Random(33).shuffle(places)
+        for at in places:
+            self.same(outcome(*calls[at]), before[at], calls[at])
 
     def test_equal_tables_that_are_different_objects(self):
         for table in samples.TABLES[::4]:

@@ -151,6 +151,12 @@ class ClashAndDoubleName(Case):
         self.assertIn(clash(far), oracle.clashes(far))
         self.assertIn(clash(far)[0], (2, 3))
 
+    def test_more_than_two_instances(self):
+        bare = ((), (), ())
+        table = ((("+",), (), ()), ((), ((2,), (0, (3,))), ()), ((), ((0, (1,)), (0, (2,))), ()), bare)
+        self.assertEqual(len(set(oracle.instances(table, 1, 0))), 3)
+        self.assertIn(clash(table), oracle.clashes(table))
+
     def test_double_name_by_hand(self):
         self.same(double_name(samples.NAME), (2, 3, 0, 1))
         # Two classes that have no class below both may use one name.

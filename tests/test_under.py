@@ -26,6 +26,24 @@ def refusal_of(table, s, t):
         road.append(under[0])
 
 
+def with_bools(value):
+    """The value with bools in place of 0 and 1: equal for Python, and wrong."""
+    if isinstance(value, tuple):
+        return tuple([with_bools(one) for one in value])
+    return bool(value) if value in (0, 1) else value
+
+
+def bool_mutants(value):
+    """The list with bools in place of integers in one entry of one row each, where that is a change."""
+    found = []
+    for at, row in enumerate(value):
+        for side in range(len(row)):
+            changed = row[:side] + (with_bools(row[side]),) + row[side + 1:]
+            if repr(changed) != repr(row):
+                found.append(value[:at] + [changed] + value[at + 1:])
+    return found
+
+
 def mutants(rng, value, types):
     """Values that are nearly the derivation or refusal."""
     found = [[], (), None, tuple(value), [list(one) for one in value], value + value[-1:], value[:-1], value[1:],
@@ -157,9 +175,18 @@ class IsDerivation(Case):
                 right += 1
                 self.assertTrue(self.both(table, s, t, rows))
                 several = mutants(rng, rows, types)
-                for value in rng.sample(several, min(40, len(several))):
+                for value in rng.sample(several, min(40, len(several))) + bool_mutants(rows):
                     self.both(table, s, t, value)
         self.assertGreater(right, 300)
+
+    def test_bools_in_place_of_integers(self):
+        table = samples.RICH
+        rows = [("x", "x", ()), ((0, "x", (2,)), (0, "x", (3,)), (0, 1))]
+        rows.insert(1, ((3,), (2,), ()))
+        self.assertTrue(self.both(table, *rows[-1][:2], rows))
+        self.assertEqual(len(bool_mutants(rows)), 3)
+        for value in bool_mutants(rows):
+            self.assertFalse(self.both(table, *rows[-1][:2], value))
 
     def test_types_of_any_size(self):
         table = samples.EXAMPLE
@@ -211,6 +238,13 @@ class IsRefusal(Case):
                 [top, ((2,), [3])], [top, ((2,), 3)], [top, "ab"], [top, end, None], [((1, (3,)), (1, (False,))), end],
                 [top, ((2,), (2,)), end], None, 0, "", {}):
             self.assertFalse(self.both(EXAMPLE, s, t, road), road)
+
+    def test_bools_in_place_of_integers(self):
+        road = [((1, (0, (3,))), (1, (0, (2,)))), ((0, (2,)), (0, (3,))), ((2,), (3,))]
+        self.assertTrue(self.both(EXAMPLE, *road[0], road))
+        self.assertEqual(len(bool_mutants(road)), 4)
+        for value in bool_mutants(road):
+            self.assertFalse(self.both(EXAMPLE, *road[0], value))
 
     def test_of_other_pairs(self):
         self.assertTrue(self.both(EXAMPLE, (2,), (3,), [((2,), (3,))]))
@@ -264,7 +298,7 @@ class IsRefusal(Case):
                 right += 1
                 self.assertTrue(self.both(table, s, t, road))
                 several = mutants(rng, road, types)
-                for value in rng.sample(several, min(40, len(several))):
+                for value in rng.sample(several, min(40, len(several))) + bool_mutants(road):
                     self.both(table, s, t, value)
         self.assertGreater(right, 150)
 
