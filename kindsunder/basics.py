@@ -1,9 +1,13 @@
 """What the other modules rest on: types without any check of arguments, and ways along edges.
 
-A type is called a shape here. The counts of a table are the numbers of parameters of its classes.
+A type is called a shape here. The heads of a table say which class numbers a class type of some length may begin with.
 """
 
 LETTERS = ("a", "b")
+# The greatest length of a class type: its class and two arguments.
+MOST_ENTRIES = 3
+# More parts than any limit allows.
+TOO_MANY = 99
 
 
 def is_integer(value):
@@ -21,61 +25,101 @@ def is_variable(value):
     return isinstance(value, str) and len(value) == 1 and "a" <= value <= "z"
 
 
-def counts_of(table):
-    """The number of parameters of each class."""
-    return [len(row[0]) for row in table]
+def is_tuple_of(value, length):
+    """True if any value is a tuple with this length."""
+    return isinstance(value, tuple) and len(value) == length
 
 
-def is_node(counts, value):
+def is_tuple_up_to(value, most):
+    """True if any value is a tuple with at most so many entries."""
+    return isinstance(value, tuple) and len(value) <= most
+
+
+def heads_of(table):
+    """For each length of a class type, the numbers of the classes whose types have this length."""
+    heads = ([], [], [], [])
+    for number, row in enumerate(table):
+        heads[len(row[0]) + 1].append(number)
+    return heads
+
+
+def is_node(heads, value):
     """True if any value begins like a class type and has as many arguments as its class wants."""
-    if not isinstance(value, tuple) or len(value) == 0:
+    if not isinstance(value, tuple) or not 0 < len(value) <= MOST_ENTRIES:
         return False
-    return is_number(value[0], 0, len(counts) - 1) and len(value) == 1 + counts[value[0]]
+    return value[0] in heads[len(value)] and not isinstance(value[0], bool)
 
 
-def is_shape(counts, value, limits=None):
-    """True if any value is a type over classes with these counts, within the limits (depth, parts) if there are any.
-
-    It stops at the first part too many: a value may have far more parts than one can look at.
-    """
-    waiting = [(value, 0)]
-    many = 0
+def is_shape(heads, value):
+    """True if any value is a type, of any size, over classes with these heads."""
+    waiting = [value]
     while waiting:
-        part, level = waiting.pop()
-        many += 1
-        if is_node(counts, part):
-            level += 1
-            waiting.extend([(inner, level) for inner in part[1:]])
+        part = waiting.pop()
+        if is_node(heads, part):
+            waiting.extend(part[1:])
         elif not is_variable(part):
-            return False
-        if limits is not None and (level > limits[0] or many > limits[1]):
             return False
     return True
 
 
+def is_closed(heads, value):
+    """True if any value is a type without variables, of any size."""
+    waiting = [value]
+    while waiting:
+        part = waiting.pop()
+        if not is_node(heads, part):
+            return False
+        waiting.extend(part[1:])
+    return True
+
+
+def parts_within(heads, value, room, leaves):
+    """The number of parts of a tuple, if it is a type with at most this depth but for its leaves; else too many.
+
+    What stands in it and is no tuple is added to the leaves: the caller knows which variables they may be. This
+    is the greater part of the work of nearly every call, so the test of is_node is written out here.
+    """
+    wide = len(value)
+    if not 0 < wide <= MOST_ENTRIES or value[0] not in heads[wide] or isinstance(value[0], bool) or room == 0:
+        return TOO_MANY
+    many = wide
+    for inner in value[1:]:
+        if isinstance(inner, tuple):
+            many += parts_within(heads, inner, room - 1, leaves) - 1
+        else:
+            leaves.append(inner)
+    return many
+
+
 def depth_of(shape):
     """The depth of a type."""
-    if is_variable(shape):
+    if isinstance(shape, str):
         return 0
-    return 1 + max([depth_of(inner) for inner in shape[1:]], default=0)
+    deepest = 0
+    for inner in shape[1:]:
+        deepest = max(deepest, depth_of(inner))
+    return 1 + deepest
 
 
 def text_of(shape):
     """The text of a type. Different types have different texts, so it serves as a key, too."""
-    if is_variable(shape):
+    if isinstance(shape, str):
         return shape
     if len(shape) == 1:
         return str(shape[0])
-    inner = ",".join([text_of(one) for one in shape[1:]])
-    return f"{shape[0]}({inner})"
+    if len(shape) == 2:
+        return f"{shape[0]}({text_of(shape[1])})"
+    return f"{shape[0]}({text_of(shape[1])},{text_of(shape[2])})"
 
 
 def put(shape, arguments):
     """The type with the arguments put into it."""
-    if is_variable(shape):
+    if isinstance(shape, str):
         for letter, argument in zip(LETTERS, arguments):
             if letter == shape:
                 return argument
+        return shape
+    if len(shape) == 1:
         return shape
     return shape[:1] + tuple([put(inner, arguments) for inner in shape[1:]])
 

@@ -3,9 +3,7 @@
 from kindsunder.basics import direct_supertypes, is_variable, text_of
 from kindsunder.errors import InvalidTypes
 from kindsunder.growth import check_tame
-from kindsunder.tables import are_types, check_table, check_type
-
-MOST_TYPES = 4
+from kindsunder.tables import MOST_TYPES, are_types, check_table, check_type
 
 
 def moves_of(table, shape):

@@ -2,9 +2,9 @@
 
 from kindsunder.basics import text_of
 from kindsunder.errors import InvalidRows
-from kindsunder.growth import check_tame
-from kindsunder.sound import check_sound
-from kindsunder.tables import check_table, check_type
+from kindsunder.scopes import sound_scope, tame_scope
+from kindsunder.searching import searched
+from kindsunder.tables import check_type
 from kindsunder.under import are_rows, needs_of
 
 
@@ -13,65 +13,48 @@ def key_of(pair):
     return f"{text_of(pair[0])} {text_of(pair[1])}"
 
 
-def decide(table, s, t):
+def decide(scope, s, t):
     """A tuple (rows, None) with a derivation of the pair, or (None, road) with a refusal of it.
 
-    The road holds the pairs that are begun, each of which needs the next one; a pair becomes a row when all
-    pairs that it needs are rows. The loop ends if only finitely many pairs come up, so in a tame table, and
-    in any sound table if there is a derivation.
+    It comes to an end in a tame table, where closures are finite, and in any sound table if there is a derivation.
     """
-    rows = []
-    numbers = {}
-    road = [(s, t)]
-    begun = {key_of((s, t)): True}
-    while road:
-        wanted = needs_of(table, road[-1][0], road[-1][1])
-        if wanted is None:
-            return None, road
-        keys = [key_of(pair) for pair in wanted]
-        lacking = [at for at, key in enumerate(keys) if key not in numbers]
-        if not lacking:
-            numbers[key_of(road[-1])] = len(rows)
-            rows.append(road.pop() + (tuple([numbers[key] for key in keys]),))
-        elif keys[lacking[0]] in begun:
-            return None, road
-        else:
-            road.append(wanted[lacking[0]])
-            begun[keys[lacking[0]]] = True
-    return rows, None
+    return searched((s, t), lambda pair: needs_of(scope, pair[0], pair[1]), key_of)
 
 
-def check_pair(table, s, t):
-    """Raise what the functions raise that are for sound and tame tables and take two types."""
-    check_table(table)
-    check_sound(table)
-    check_tame(table)
+def holds(scope, s, t):
+    """True if s is under t, in a tame table. The scope keeps the answer: runs ask the same again and again."""
+    key = key_of((s, t))
+    if key not in scope.known:
+        scope.known[key] = decide(scope, s, t)[0] is not None
+    return scope.known[key]
+
+
+def pair_scope(table, s, t):
+    """The scope of a sound and tame table. Raises InvalidType for two types, behind the errors of the table."""
+    scope = tame_scope(table)
     check_type(table, s)
     check_type(table, t)
+    return scope
 
 
 def is_under(table, s, t):
     """True if s is under t."""
-    check_pair(table, s, t)
-    return decide(table, s, t)[0] is not None
+    return holds(pair_scope(table, s, t), s, t)
 
 
 def derivation(table, s, t):
     """Any derivation of (s, t), or None."""
-    check_pair(table, s, t)
-    return decide(table, s, t)[0]
+    return decide(pair_scope(table, s, t), s, t)[0]
 
 
 def refusal(table, s, t):
     """Any refusal of (s, t), or None."""
-    check_pair(table, s, t)
-    return decide(table, s, t)[1]
+    return decide(pair_scope(table, s, t), s, t)[1]
 
 
 def joined(table, first, second):
     """Any derivation of (s, u), where first and second are derivations of (s, t) and (t, u)."""
-    check_table(table)
-    check_sound(table)
-    if not are_rows(table, first) or not are_rows(table, second) or first[-1][1] != second[-1][0]:
+    scope = sound_scope(table)
+    if not are_rows(scope, first) or not are_rows(scope, second) or first[-1][1] != second[-1][0]:
         raise InvalidRows("these are not derivations of pairs (s, t) and (t, u)")
-    return decide(table, first[-1][0], second[-1][1])[0]
+    return decide(scope, first[-1][0], second[-1][1])[0]

@@ -4,6 +4,12 @@ from kindsunder.basics import is_number, is_variable, parts_of
 from kindsunder.errors import InvalidPlace, InvalidSign
 from kindsunder.tables import check_table, check_type, is_sign
 
+# The product of two signs, by both of them in one string.
+PRODUCTS = {
+    "++": "+", "+-": "-", "-+": "-", "--": "+", "+=": "=", "=+": "=", "-=": "=", "=-": "=", "==": "=",
+    "+*": "*", "*+": "*", "-*": "*", "*-": "*", "=*": "*", "*=": "*", "**": "*",
+}
+
 
 def check_sign(sign):
     """Raise InvalidSign if any value is not a sign."""
@@ -13,11 +19,7 @@ def check_sign(sign):
 
 def product_of(first, second):
     """The product of two values that are signs."""
-    if "*" in (first, second):
-        return "*"
-    if "=" in (first, second):
-        return "="
-    return "+" if first == second else "-"
+    return PRODUCTS[first + second]
 
 
 def does_allow(sign, other):
@@ -49,6 +51,13 @@ def is_place(shape, value):
             return False
         part = part[1 + number]
     return True
+
+
+def part_at(shape, place):
+    """The part at what is a place in the type."""
+    for number in place:
+        shape = shape[1 + number]
+    return shape
 
 
 def sign_of(table, shape, place):

@@ -1,16 +1,11 @@
 """What a sound table needs: an order, no obstacles, no clash and no double name."""
 
-from kindsunder.basics import LETTERS, classes_from, is_number, open_shape, parts_of, put, super_edges, trail
-from kindsunder.errors import InvalidParameter, NotInOrder, Unsound
+from kindsunder.basics import LETTERS, is_number, open_shape, parts_of, put, super_edges, trail
+from kindsunder.errors import InvalidParameter, NotInOrder
 from kindsunder.places import check_sign, does_allow, product_of, sign_of
 from kindsunder.tables import check_class, check_table
 
 USE_SIGNS = {"get": "+", "put": "-", "both": "="}
-
-
-def is_ready(table, placed, class_number):
-    """True if all classes directly above a class are placed."""
-    return all(shape[0] in placed for shape in table[class_number][1])
 
 
 def order_of(table):
@@ -18,7 +13,7 @@ def order_of(table):
     placed = []
     waiting = list(range(len(table)))
     while waiting:
-        ready = [one for one in waiting if is_ready(table, placed, one)]
+        ready = [one for one in waiting if all([shape[0] in placed for shape in table[one][1]])]
         if not ready:
             return None
         placed.extend(ready)
@@ -37,7 +32,7 @@ def ring_of(table):
 
 
 def places_with(row):
-    """The tuples (kind, number, place, sign, shape) of all types in a class, with the sign of the super or use."""
+    """The tuples (kind, number, sign, shape) of all types in a class, with the sign of the super or use."""
     supers = [("super", number, "+", shape) for number, shape in enumerate(row[1])]
     members = [("member", number, USE_SIGNS[one[1]], one[2]) for number, one in enumerate(row[2])]
     return supers + members
@@ -55,44 +50,74 @@ def obstacles_of(table, class_number, parameter, sign):
     return sorted(found)
 
 
-def first_obstacle(table):
-    """A tuple (class, parameter, obstacle) for a parameter and its own sign, or None."""
-    for class_number, row in enumerate(table):
-        for parameter, sign in enumerate(row[0]):
-            found = obstacles_of(table, class_number, parameter, sign)
-            if found:
-                return (class_number, parameter, found[0])
+def refuser(table, own, shape, sign):
+    """A parameter in a type at a place of this sign that its own sign, one of those of its class, refuses, or None."""
+    if isinstance(shape, str):
+        number = LETTERS.index(shape)
+        return None if does_allow(own[number], sign) else number
+    for inner, outer in zip(shape[1:], table[shape[0]][0]):
+        found = refuser(table, own, inner, product_of(sign, outer))
+        if found is not None:
+            return found
     return None
 
 
-def instances_of(table):
-    """For all classes (low, high) of a table in order, high above low, the different instances of high above low."""
+def obstacle_within(table, class_number):
+    """A tuple (class, parameter, obstacle) for a parameter of the class and its own sign, or None."""
+    own = table[class_number][0]
+    for outer in places_with(table[class_number]):
+        found = refuser(table, own, outer[3], outer[2])
+        if found is not None:
+            return (class_number, found, obstacles_of(table, class_number, found, own[found])[0])
+    return None
+
+
+def first_obstacle(table):
+    """A tuple (class, parameter, obstacle) for any parameter and its own sign, or None."""
+    for class_number, row in enumerate(table):
+        found = obstacle_within(table, class_number) if row[0] else None
+        if found is not None:
+            return found
+    return None
+
+
+def instances_from(table, class_number, found):
+    """For each class above a class, its different instances; those of the classes directly above are found already."""
+    own = {class_number: [open_shape(table, class_number)]}
+    for shape in table[class_number][1]:
+        for high, some in found[shape[0]].items():
+            known = own.setdefault(high, [])
+            for one in some:
+                raised = put(one, shape[1:])
+                # Different instances may become equal here, so each one is compared with those just added, too.
+                if raised not in known:
+                    known.append(raised)
+    return own
+
+
+def instances_of(table, placed):
+    """For each class of a table with this order, the different instances of each class above it, in dicts."""
     found = {}
-    for low in order_of(table):
-        found[(low, low)] = [open_shape(table, low)]
-        for shape in table[low][1]:
-            for high in classes_from(table, shape[0]):
-                known = found.setdefault((low, high), [])
-                raised = [put(one, shape[1:]) for one in found[(shape[0], high)]]
-                known.extend([one for one in raised if one not in known])
+    for low in placed:
+        found[low] = instances_from(table, low, found)
     return found
 
 
-def clash_of(table):
-    """A clash of a table in order, or None."""
-    found = instances_of(table)
-    for low, high in sorted(found):
-        if len(found[(low, high)]) > 1:
-            first, second = found[(low, high)][:2]
-            return (low, high, first, second)
+def clash_in(instances):
+    """A clash, by the instances of a table in order, or None."""
+    for low in sorted(instances):
+        for high in sorted(instances[low]):
+            if len(instances[low][high]) > 1:
+                first, second = instances[low][high][:2]
+                return (low, high, first, second)
     return None
 
 
-def double_name_of(table):
+def double_name_in(table, instances):
     """A double name of a table in order, or None."""
-    for low in range(len(table)):
+    for low in sorted(instances):
         owners = {}
-        for high in classes_from(table, low):
+        for high in sorted(instances[low]):
             for member in table[high][2]:
                 name = member[0]
                 if name in owners:
@@ -101,34 +126,36 @@ def double_name_of(table):
     return None
 
 
-def fault_of(table):
-    """A fault of the first form that exists, or None."""
-    circle = ring_of(table)
-    if circle is not None:
-        return ("ring", circle)
+def judged(table):
+    """A tuple (fault, instances) of a fault of the first form that exists, or None, and of the instances, if needed."""
+    placed = order_of(table)
+    if placed is None:
+        return ("ring", ring_of(table)), None
     obstacle = first_obstacle(table)
     if obstacle is not None:
-        return ("obstacle",) + obstacle
-    different = clash_of(table)
+        return ("obstacle",) + obstacle, None
+    instances = instances_of(table, placed)
+    different = clash_in(instances)
     if different is not None:
-        return ("clash", different)
-    double = double_name_of(table)
+        return ("clash", different), instances
+    double = double_name_in(table, instances)
     if double is not None:
-        return ("name", double)
-    return None
+        return ("name", double), instances
+    return None, instances
 
 
-def check_sound(table):
-    """Raise Unsound if a table has a fault."""
-    found = fault_of(table)
-    if found is not None:
-        raise Unsound(found)
-
-
-def check_order(table):
-    """Raise NotInOrder if a table is not in order."""
-    if order_of(table) is None:
+def instances_in_order(table):
+    """The instances of a table. Raises NotInOrder if it is not in order."""
+    placed = order_of(table)
+    if placed is None:
         raise NotInOrder("the table is not in order")
+    return instances_of(table, placed)
+
+
+def check_parameter(table, class_number, parameter):
+    """Raise InvalidParameter if any value is not the number of a parameter of the class."""
+    if not is_number(parameter, 0, len(table[class_number][0]) - 1):
+        raise InvalidParameter("this is not the number of a parameter of the class")
 
 
 def order(table):
@@ -147,8 +174,7 @@ def obstacles(table, class_number, parameter, sign):
     """The ascending list of the obstacles for a parameter of a class and a sign."""
     check_table(table)
     check_class(table, class_number)
-    if not is_number(parameter, 0, len(table[class_number][0]) - 1):
-        raise InvalidParameter("this is not the number of a parameter of the class")
+    check_parameter(table, class_number, parameter)
     check_sign(sign)
     return obstacles_of(table, class_number, parameter, sign)
 
@@ -156,18 +182,16 @@ def obstacles(table, class_number, parameter, sign):
 def clash(table):
     """Any clash, or None."""
     check_table(table)
-    check_order(table)
-    return clash_of(table)
+    return clash_in(instances_in_order(table))
 
 
 def double_name(table):
     """Any double name, or None."""
     check_table(table)
-    check_order(table)
-    return double_name_of(table)
+    return double_name_in(table, instances_in_order(table))
 
 
 def fault(table):
     """Any fault of the first form that exists, or None if the table is sound."""
     check_table(table)
-    return fault_of(table)
+    return judged(table)[0]

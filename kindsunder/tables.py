@@ -1,17 +1,23 @@
 """Tables of classes, and the types of a table."""
 
-from kindsunder.basics import LETTERS, counts_of, depth_of, is_number, is_shape, is_variable, put, text_of, variables_in
+from kindsunder.basics import LETTERS, depth_of, heads_of, is_number, is_tuple_of, is_tuple_up_to, is_variable
+from kindsunder.basics import parts_within, put, text_of
 from kindsunder.errors import InvalidArguments, InvalidClass, InvalidTable, InvalidType
 
 SIGNS = ("+", "-", "=", "*")
 USES = ("get", "put", "both")
+NAMES = (0, 1, 2, 3, 4, 5, 6, 7, 8, 9)
 MOST_CLASSES = 5
 MOST_SIGNS = 2
 MOST_SUPERS = 2
 MOST_MEMBERS = 3
 # The greatest depth and number of parts: of a type in a class, and of one that is passed.
-WITHIN_CLASSES = (3, 5)
-WHEN_PASSED = (6, 25)
+DEPTH_WITHIN = 3
+PARTS_WITHIN = 5
+DEPTH_PASSED = 6
+PARTS_PASSED = 25
+# The greatest number of types in a list of types that is passed.
+MOST_TYPES = 4
 
 
 def is_sign(value):
@@ -19,66 +25,98 @@ def is_sign(value):
     return value in SIGNS
 
 
-def is_tuple_up_to(value, most):
-    """True if any value is a tuple with at most so many entries."""
-    return isinstance(value, tuple) and len(value) <= most
+def are_signs(value):
+    """True if any value is a tuple of at most two signs."""
+    if not is_tuple_up_to(value, MOST_SIGNS):
+        return False
+    for sign in value:
+        if sign not in SIGNS:
+            return False
+    return True
 
 
 def is_frame(value):
     """True if any value has the form of a class, whatever its supers and members are."""
-    if not isinstance(value, tuple) or len(value) != 3:
+    if not is_tuple_of(value, 3) or not are_signs(value[0]):
         return False
-    signs, supers, members = value
-    if not is_tuple_up_to(signs, MOST_SIGNS) or not all(is_sign(sign) for sign in signs):
+    return is_tuple_up_to(value[1], MOST_SUPERS) and is_tuple_up_to(value[2], MOST_MEMBERS)
+
+
+def is_super(heads, letters, value):
+    """True if any value is a type that may be a super of a class with these parameters."""
+    leaves = []
+    if not isinstance(value, tuple) or parts_within(heads, value, DEPTH_WITHIN, leaves) > PARTS_WITHIN:
         return False
-    return is_tuple_up_to(supers, MOST_SUPERS) and is_tuple_up_to(members, MOST_MEMBERS)
+    for leaf in leaves:
+        if leaf not in letters or leaves.count(leaf) > 1:
+            return False
+    return True
 
 
-def is_inner(counts, many, value):
-    """True if any value is a type that may stand in a class with so many parameters."""
-    if not is_shape(counts, value, WITHIN_CLASSES):
+def is_inner(heads, letters, value):
+    """True if any value is a type that may stand in a class with these parameters."""
+    if not isinstance(value, tuple):
+        return value in letters
+    leaves = []
+    if parts_within(heads, value, DEPTH_WITHIN, leaves) > PARTS_WITHIN:
         return False
-    return all(letter in LETTERS[:many] for letter in variables_in(value))
+    for leaf in leaves:
+        if leaf not in letters:
+            return False
+    return True
 
 
-def is_super(counts, many, value):
-    """True if any value is a type that may be a super of a class with so many parameters."""
-    if is_variable(value) or not is_inner(counts, many, value):
-        return False
-    letters = variables_in(value)
-    return len(set(letters)) == len(letters)
+def is_name(value):
+    """True if any value is an integer from 0 to 9."""
+    return value in NAMES and not isinstance(value, bool)
 
 
-def is_member(counts, many, value):
-    """True if any value is a tuple that may be a member of a class with so many parameters."""
-    if not isinstance(value, tuple) or len(value) != 3:
+def is_member(heads, letters, value):
+    """True if any value is a tuple that may be a member of a class with these parameters."""
+    if not is_tuple_of(value, 3):
         return False
     name, use, shape = value
-    return is_number(name, 0, 9) and use in USES and is_inner(counts, many, shape)
+    return use in USES and is_name(name) and is_inner(heads, letters, shape)
 
 
-def is_filled(counts, row):
+def is_filled(heads, row):
     """True if the supers and the members of what has the form of a class are right."""
     signs, supers, members = row
-    many = len(signs)
-    if not all(is_super(counts, many, one) for one in supers):
-        return False
-    if not all(is_member(counts, many, one) for one in members):
-        return False
+    letters = LETTERS[:len(signs)]
+    for one in supers:
+        if not is_super(heads, letters, one):
+            return False
+    for one in members:
+        if not is_member(heads, letters, one):
+            return False
     return len({member[0] for member in members}) == len(members)
 
 
 def is_table(value):
     """True if any value is a table."""
-    if not is_tuple_up_to(value, MOST_CLASSES) or not all(is_frame(row) for row in value):
+    if not is_tuple_up_to(value, MOST_CLASSES):
         return False
-    counts = counts_of(value)
-    return all(is_filled(counts, row) for row in value)
+    for row in value:
+        if not is_frame(row):
+            return False
+    heads = heads_of(value)
+    for row in value:
+        if not is_filled(heads, row):
+            return False
+    return True
 
 
 def may_pass(table, value):
     """True if any value is a type of a table that may be passed."""
-    return is_shape(counts_of(table), value, WHEN_PASSED)
+    if not isinstance(value, tuple):
+        return is_variable(value)
+    leaves = []
+    if parts_within(heads_of(table), value, DEPTH_PASSED, leaves) > PARTS_PASSED:
+        return False
+    for leaf in leaves:
+        if not is_variable(leaf):
+            return False
+    return True
 
 
 def are_types(table, value, most):

@@ -4,6 +4,7 @@ Nothing here is imported from the program. Where the document says "any", there 
 tells whether a result is one of those it allows.
 """
 
+import functools
 import itertools
 
 SIGNS = ("+", "-", "=", "*")
@@ -180,20 +181,22 @@ def in_order(table):
 
 
 def ring_ok(table, value):
-    if type(value) is not list or not value or len(set(value)) < len(value):
+    if type(value) is not list or not value or not all(whole(one) and 0 <= one < len(table) for one in value):
         return False
-    if not all(whole(one) and 0 <= one < len(table) for one in value):
+    if len(set(value)) < len(value):
         return False
     return all(value[(at + 1) % len(value)] in direct(table, value[at]) for at in range(len(value)))
 
 
+@functools.lru_cache(maxsize=None)
 def classes_above(table, number):
     found = {number}
     for _ in table:
         found |= {other for one in found for other in direct(table, one)}
-    return sorted(found)
+    return tuple(sorted(found))
 
 
+@functools.lru_cache(maxsize=None)
 def instances(table, low, high):
     """All instances of the class high above low in a table in order, equal ones as often as they come."""
     if low == high:

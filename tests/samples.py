@@ -141,6 +141,53 @@ def mended(table):
             for number, row in enumerate(table)])
 
 
+def merges(table):
+    """True if, in a table in order, different instances become equal when the arguments of a super are put into them."""
+    for low, row in enumerate(table):
+        for shape in row[1]:
+            for high in oracle.classes_above(table, shape[0]):
+                some = set(oracle.instances(table, shape[0], high))
+                if len({oracle.put(one, shape[1:]) for one in some}) < len(some):
+                    return True
+    return False
+
+
+def renumbered(table, places):
+    """The table with its classes at other places: class number n at places[n]."""
+    def moved(one):
+        return one if type(one) is str else (places[one[0]],) + tuple([moved(inner) for inner in one[1:]])
+
+    rows = [None] * len(table)
+    for number, (signs, supers, members) in enumerate(table):
+        rows[places[number]] = (
+            signs, tuple([moved(one) for one in supers]), tuple([(name, use, moved(one)) for name, use, one in members]))
+    return tuple(rows)
+
+
+def merging(many):
+    """So many tables in order in which instances become equal; some with obstacles and double names, too."""
+    rng = random.Random(21)
+    found = []
+    while len(found) < many:
+        top, low = rng.choice((1, 1, 2)), rng.choice((1, 1, 2))
+        inner = [(0,), (1,), (0,)] + ["a", "b"][:low] * 3
+
+        def signs(count):
+            return tuple([rng.choice("====+") for _ in range(count)])
+
+        def supers(number, count, choices):
+            return tuple([(number,) + tuple([rng.choice(choices) for _ in range(count)]) for _ in range(2)])
+
+        table = (
+            ((), (), ((1, "get", (0,)),) * rng.randrange(2)), ((), ((0,),) * rng.randrange(2), ()),
+            (signs(top), (), ((2, "get", "a"),)), (signs(low), supers(2, top, inner), ((rng.randrange(4), "get", (1,)),)),
+            (signs(1), supers(3, low, [(0,), (1,), "a"])[:rng.choice((1, 1, 2))], ()))
+        table = renumbered(table, rng.sample(range(5), 5))
+        if oracle.table_ok(table) and merges(table) and table not in found:
+            found.append(table)
+    return found
+
+
 def kind_of(table):
     """What a table is drawn as: the form of its faults, or whether it is tame."""
     if not oracle.in_order(table):

@@ -39,7 +39,7 @@ class ClassesAboveAndWay(Case):
         for table in samples.TABLES:
             for low in range(len(table)):
                 found = self.steady(classes_above, table, low)
-                self.same(found, oracle.classes_above(table, low))
+                self.same(found, list(oracle.classes_above(table, low)))
                 for high in range(len(table)):
                     numbers = self.steady(way, table, low, high)
                     if low == high:

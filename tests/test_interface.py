@@ -25,9 +25,19 @@ FUNCTIONS = {
     "closures": {"moves": "table shape", "closure": "table types"},
     "deciding": {"is_under": "table s t", "derivation": "table s t", "refusal": "table s t",
                  "joined": "table first second"},
+    "heights": {"height": "table s t", "are_alike": "table s t", "lowest": "table types"},
+    "fitting": {"fitting": "table class_number shape"},
+    "signs": {"uses": "table", "best_signs": "table", "with_best": "table",
+              "reason": "table class_number parameter way_sign"},
+    "offers": {"offers": "table shape"},
+    "programs": {"is_program": "table value", "misfit": "table program", "run": "table program number"},
+    "checker": {"check": "certificate"},
+    "bounds": {"are_bounds": "table value", "keeps": "table bounds closed"},
 }
-SOUND = ("above", "needs", "is_derivation", "is_refusal", "is_under", "derivation", "refusal", "joined")
-TAME = ("closure", "is_under", "derivation", "refusal")
+SOUND = ("above", "needs", "is_derivation", "is_refusal", "is_under", "derivation", "refusal", "joined", "height", "are_alike",
+         "lowest", "fitting", "offers", "misfit", "run", "are_bounds", "keeps")
+TAME = ("closure", "is_under", "derivation", "refusal", "height", "are_alike", "lowest", "fitting", "misfit", "run",
+        "are_bounds", "keeps")
 
 
 def functions():
@@ -95,7 +105,8 @@ class Interface(Case):
         """The calls of all functions for several tables, once in their order and once in another one."""
         values = {"value": [("x", "x", ())], "shape": "x", "arguments": ("x",), "place": (), "class_number": 0, "other": 0,
                   "parameter": 0, "sign": "*", "s": "x", "t": "x", "number": 4, "types": ("x",),
-                  "first": [("x", "x", ())], "second": [("x", "x", ())]}
+                  "first": [("x", "x", ())], "second": [("x", "x", ())], "way_sign": "+", "bounds": ((), ()), "closed": (0,),
+                  "program": (((0,),), (("new", 0, (0,), ()),))}
         calls = []
         for table in samples.TABLES[::5]:
             shapes = samples.types_of(table, 6, 32)

@@ -2,7 +2,8 @@
 
 import unittest
 
-from kindsunder.errors import InvalidClass, InvalidParameter, InvalidSign, InvalidTable, NotInOrder
+from kindsunder.above import above
+from kindsunder.errors import InvalidClass, InvalidParameter, InvalidSign, InvalidTable, NotInOrder, Unsound
 from kindsunder.sound import clash, double_name, fault, obstacles, order, ring
 from tests import oracle, samples
 from tests.base import Case
@@ -156,6 +157,41 @@ class ClashAndDoubleName(Case):
         table = ((("+",), (), ()), ((), ((2,), (0, (3,))), ()), ((), ((0, (1,)), (0, (2,))), ()), bare)
         self.assertEqual(len(set(oracle.instances(table, 1, 0))), 3)
         self.assertIn(clash(table), oracle.clashes(table))
+
+    def test_instances_that_become_equal(self):
+        """Different instances may become equal when the arguments of a super are put into them: then they are one."""
+        bare, plain, wide = ((), (), ()), (("=",), (), ()), (("=", "="), (), ())
+        low = (("=",), ((1, "a"), (1, (3,))), ())
+        table = (((), ((2, (3,)),), ()), plain, low, bare)
+        self.assertEqual(oracle.instances(table, 0, 1), [(1, (3,))] * 2)
+        for value in (clash(table), fault(table)[1]):
+            self.assertIn(value, [(2, 1, (1, "a"), (1, (3,))), (2, 1, (1, (3,)), (1, "a"))])
+        # Another argument leaves them different, in both classes.
+        table = (((), ((2, (0,)),), ()), plain, low, bare)
+        self.assertIn(clash(table), oracle.clashes(table))
+        self.assertEqual({one[0] for one in oracle.clashes(table)}, {0, 2})
+        # Two of three become equal, one by one super, one by the other.
+        table = (((), ((3, (4,), (4,)), (2, (4,), (0,))), ()), wide, (("=", "="), ((1, "a", "b"),), ()),
+                 (("=", "="), ((2, "b", "a"), (1, "a", "b")), ()), bare)
+        self.assertEqual(len(set(oracle.instances(table, 0, 1))), 2)
+        self.assertIn(clash(table), oracle.clashes(table))
+        # Equal again two classes further down.
+        table = (((), ((1, (4,)),), ()), (("=",), ((2, "a"),), ()), (("=",), ((3, "a"), (3, (4,))), ()), (("=",), (), ()), bare)
+        self.assertIn(clash(table), oracle.clashes(table))
+        self.assertNotEqual(clash(table)[0], 0)
+
+    def test_drawn_tables_whose_instances_become_equal(self):
+        several = 0
+        for table in samples.merging(60):
+            some = oracle.clashes(table)
+            found = self.steady(clash, table)
+            self.assertIn(found, some, table)
+            self.assertNotEqual(found[2], found[3])
+            value = self.steady(fault, table)
+            self.assertTrue(oracle.fault_ok(table, value), (table, value))
+            several += value[0] == "clash"
+            self.assertTrue(oracle.fault_ok(table, self.fails(Unsound, above, table, "x", 0).fault))
+        self.assertGreater(several, 20)
 
     def test_double_name_by_hand(self):
         self.same(double_name(samples.NAME), (2, 3, 0, 1))

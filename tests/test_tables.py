@@ -1,6 +1,7 @@
 """kindsunder.tables: is_table, is_type, depth, text, put_in (points 4 and 5)."""
 
 import random
+import sys
 import unittest
 
 from kindsunder.errors import InvalidArguments, InvalidTable, InvalidType
@@ -251,6 +252,24 @@ class IsType(Case):
         self.refuses_tables(is_type, "a")
 
 
+def lines_run(function, *arguments):
+    """How many lines a call runs."""
+    many = 0
+
+    def count(frame, event, value):
+        nonlocal many
+        many += event == "line"
+        return count
+
+    before = sys.gettrace()
+    sys.settrace(count)
+    try:
+        function(*arguments)
+    finally:
+        sys.settrace(before)
+    return many
+
+
 class DepthAndText(Case):
     def test_example(self):
         self.same([depth(EXAMPLE, (1, (0, "x"))), text(EXAMPLE, (1, (0, "x")))], [2, "1(0(x))"])
@@ -268,6 +287,19 @@ class DepthAndText(Case):
             for one in samples.types_of(table, 12):
                 self.same(self.steady(depth, table, one), oracle.depth(one))
                 self.same(self.steady(text, table, one), oracle.text(one))
+
+    def test_large_tables_take_little_work(self):
+        """Work is counted in lines that are run, which, unlike time, are the same on each machine."""
+        row = (((0, "a", (1, "b", (2,))), (1, (2,), (0, "a", "b"))),
+               ((0, "get", (0, (1, "a", "b"), "a")), (1, "put", (1, "a", (0, "b", "a"))), (2, "both", (0, (0, "a", "b"), "b"))))
+        table = ((("+", "-"),) + row,) * 2 + (BARE,) + ((("=", "*"),) + row,) * 2
+        shape = (0, (1, "a", "b"), "a")
+        self.same([depth(table, shape), text(table, shape)], [2, "0(1(a,b),a)"])
+        for function in (depth, text):
+            self.assertLess(lines_run(function, table, shape), 1200)
+        # What is no table, or no type of it, is found out at the end of the table at the latest.
+        for value in (table[:4] + ((("=", "*"), row[0], row[1][:2] + ((2, "both", (0, (0, "a", "b"), "c")),)),), table + (BARE,)):
+            self.assertLess(lines_run(is_table, value), 1200)
 
     def test_errors(self):
         for function in (depth, text):
