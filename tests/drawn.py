@@ -4,7 +4,9 @@ import random
 
 from tests import oracle, oracle_more, samples
 
-SPARE = samples.ODD + [
+# Odd values, the empty tuple among them, which is no odd one in place of a table.
+ODD = samples.ODD + [()]
+SPARE = ODD + [
     0, 1, 2, 3, 4, 7, 12, 13, 200, 201, "a", "x", "+", "-", "=", "*", "get", "put", "both", "new", "copy", "read", "write",
     "ask", "jump", "super", "member", "ring", "obstacle", "clash", "name", (0,), (1,), (2,), (3,), (0, (2,)), (1, (3,)),
     (0, "a"), (1, "x"), [(0,)], ((2,), (3,)), ((), ()), ((((3,),)), ()), (0, 0), [0, 1]]

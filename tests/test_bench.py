@@ -190,9 +190,9 @@ class Changes(Case):
     def test_values_that_lead_to_no_table(self):
         bench = bench_of(EXAMPLE)
         before = bench.table
-        for value in samples.ODD + [BARE[:2], list(BARE), (("+",), ((5, "a"),), ()), (("+",), (), ((0, "get", "b"),)), ((), ((4, (2,)),), ())]:
+        for value in drawn.ODD + [BARE[:2], list(BARE), (("+",), ((5, "a"),), ()), (("+",), (), ((0, "get", "b"),)), ((), ((4, (2,)),), ())]:
             self.fails(InvalidTable, bench.add_class, value)
-        for value in samples.ODD + ["a", (0, "b"), (0,), (2, "a"), (4,), (True, "a"), [2], (0, [2]), (1, (1, (1, (1, "a"))))]:
+        for value in drawn.ODD + ["a", (0, "b"), (0,), (2, "a"), (4,), (True, "a"), [2], (0, [2]), (1, (1, (1, (1, "a"))))]:
             self.fails(InvalidTable, bench.add_super, 1, value)
         for name, use, value in ((0, "get", "b"), (0, "get", "x"), (1, "get", "a"), (10, "get", "a"), (True, "get", "a"), (-1, "get", "a"),
                                  (2, "set", "a"), (2, None, "a"), ("2", "get", "a"), (2, "get", (0,)), (2, "get", [2]), (2, ["get"], "a"),
@@ -230,7 +230,7 @@ class Changes(Case):
     def test_order_of_errors(self):
         """InvalidClass, then InvalidTable, then Unsound, then NotTame."""
         bench = bench_of(((("=",), (), ()), (("=",), (), ()), BARE))
-        for number in samples.ODD + [3, 4, -1, True, False, "0"]:
+        for number in drawn.ODD + [3, 4, -1, True, False, "0"]:
             if not (type(number) is int and 0 <= number < 3):
                 self.fails(InvalidClass, bench.add_super, number, None)
                 self.fails(InvalidClass, bench.add_member, number, None, None, None)
@@ -250,7 +250,7 @@ class Changes(Case):
                     self.same(bench.table[number][0], signs)
                 else:
                     self.fails(InvalidSign, bench.set_signs, number, signs)
-            for signs in samples.ODD + [["+"] * many, "+" * many, ("get",) * many, (None,) * many, (["+"],) * many]:
+            for signs in drawn.ODD + [["+"] * many, "+" * many, ("get",) * many, (None,) * many, (["+"],) * many]:
                 if signs != () or many:
                     if not (type(signs) is tuple and len(signs) == many and all([one in ("+", "-", "=", "*") for one in signs])):
                         self.fails(InvalidSign, bench.set_signs, number, signs)
@@ -296,7 +296,7 @@ class Watching(Case):
         deep = "x"
         for _ in range(6):
             deep = (0, deep)
-        for value in samples.ODD + ["xy", (0,), (4,), [2], (0, [2]), (0, deep)]:
+        for value in drawn.ODD + ["xy", (0,), (4,), [2], (0, [2]), (0, deep)]:
             self.fails(InvalidType, bench.watch, value, "x")
             self.fails(InvalidType, bench.watch, "x", value)
         self.same([bench.answers(), bench.watch(deep, "x")], [[], 0])
@@ -317,7 +317,7 @@ class Watching(Case):
     def test_numbers_of_pairs(self):
         bench = bench_of(EXAMPLE)
         for many in range(4):
-            for value in samples.ODD + [many, many + 1, -1, "0", (0,), [0]]:
+            for value in drawn.ODD + [many, many + 1, -1, "0", (0,), [0]]:
                 if not (type(value) is int and 0 <= value < many):
                     self.same(self.fails(InvalidWatch, bench.paper, value).number, value)
             bench.watch("x", "x")
@@ -388,7 +388,7 @@ class Marks(Case):
     def test_wrong_marks(self):
         bench = Bench()
         for many in range(3):
-            for value in samples.ODD + [many, many + 1, -1, "0", (0,), [0]]:
+            for value in drawn.ODD + [many, many + 1, -1, "0", (0,), [0]]:
                 if not (type(value) is int and 0 <= value < many):
                     self.same(self.fails(InvalidMark, bench.back, value).number, value)
             bench.mark()

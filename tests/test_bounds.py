@@ -46,7 +46,7 @@ class AreBounds(Case):
             self.no((one, one))
 
     def test_forms(self):
-        for value in samples.ODD + [((),), ((), (), ()), [(), ()], ([], ()), ((), []), (None, ()), ((), None), "ab", ((2,), (3,)), {}]:
+        for value in drawn.ODD + [((),), ((), (), ()), [(), ()], ([], ()), ((), []), (None, ()), ((), None), "ab", ((2,), (3,)), {}]:
             if value != ((), ()):
                 self.no(value)
         self.yes(((), ()))
@@ -120,12 +120,12 @@ class Keeps(Case):
             self.same([keeps(EXAMPLE, ((low,), (high,)), one) for one in (low, high, (0, low), (2,))], [True, True, False, False])
 
     def test_wrong_bounds(self):
-        for value in samples.ODD + [(((3,), (2,)), ()), ((), ("x",)), [(), ()], (((2,), (2,)), ()), ((), ((0, "a"),)), (((True,),), ())]:
+        for value in drawn.ODD + [(((3,), (2,)), ()), ((), ("x",)), [(), ()], (((2,), (2,)), ()), ((), ((0, "a"),)), (((True,),), ())]:
             if not oracle_more.bounds_ok(EXAMPLE, value):
                 self.fails(InvalidBounds, keeps, EXAMPLE, value, (2,))
 
     def test_wrong_types(self):
-        for value in samples.ODD + ["x", "a", (0, "a"), (0,), (4,), [2], (0, [2]), (True, (2,)), tower(0, 50, "x"), tower(0, 50, (False,))]:
+        for value in drawn.ODD + ["x", "a", (0, "a"), (0,), (4,), [2], (0, [2]), (True, (2,)), tower(0, 50, "x"), tower(0, 50, (False,))]:
             self.fails(InvalidType, keeps, EXAMPLE, ((), ()), value)
 
     def test_errors(self):

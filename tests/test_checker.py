@@ -68,7 +68,7 @@ class Certificates(Case):
         self.right("fault", samples.RING_AND_MORE, ("ring", [0, 1]))
 
     def test_the_form_of_a_fault(self):
-        for value in samples.ODD + [("ring",), ("ring", [0], 0), ["ring", [0, 1, 2]], ("rings", [0, 1, 2]), ("obstacle", (0, 0, ("super", 0, ()))),
+        for value in drawn.ODD + [("ring",), ("ring", [0], 0), ["ring", [0, 1, 2]], ("rings", [0, 1, 2]), ("obstacle", (0, 0, ("super", 0, ()))),
                                     ("obstacle", 1, 0), ("clash", 2, 0, (0, (1,)), (0, (2,))), ("name",), (["ring"], [0]), (("ring", [0]),), (None, None),
                                     ("obstacle", 1, 0, ("super", 0, (0,)), 0), "ring", "name"]:
             for table in (samples.RING, samples.OBSTACLE, EXAMPLE, ()):
@@ -83,6 +83,12 @@ class Certificates(Case):
                       (1, 0, None), (None, 0, ("super", 0, (0,))), (1, "a", ("super", 0, (0,))), (1, 0, ("super", 0)), (1, 0, ("super", 0, (0,), 0)),
                       (1, 0, ([], 0, (0,))), (1, 0, ("super", [0], (0,))), (1, 0, ("super", 0, None)), ([1], [0], [])):
             self.wrong(1, "fault", samples.OBSTACLE, ("obstacle",) + value)
+        two = ((("+", "-"), (), ()), (("+", "+"), ((0, "a", "b"),), ()))
+        self.right("fault", two, ("obstacle", 1, 1, ("super", 0, (1,))))
+        self.wrong(1, "fault", two, ("obstacle", 1, -1, ("super", 0, (1,))))
+        self.wrong(1, "fault", two, ("obstacle", -1, 1, ("super", 0, (1,))))
+        self.wrong(1, "fault", two, ("obstacle", 1, 1, ("super", -1, (1,))))
+        self.wrong(1, "fault", two, ("obstacle", 1, 1, ("super", 0, (-1,))))
         # There is a ring, too: the obstacle is one, but not of the first form.
         self.wrong(2, "fault", samples.RING_AND_MORE, ("obstacle", 0, 0, ("member", 0, ())))
         self.right("fault", samples.OBSTACLE_AND_MORE, ("obstacle", 0, 0, ("member", 0, ())))
@@ -94,7 +100,8 @@ class Certificates(Case):
             for other in ((low, high, first, first), (low, high, first), list(value), (low, high, first, second, 0), (high, low, first, second),
                           (low, high, first, (5,)), (low, high, None, second), (low, high, list(first), second), (5, high, first, second), (-1, high, first, second),
                           (low, -1, first, second), (low, True if high == 1 else False, first, second), (True, high, first, second), (low, None, first, second),
-                          (low, high, first, (0, "x")), (low, high, (False,) + first[1:], second), ([low], high, first, second), (low, high, "ab", second)):
+                          (low, high, first, (0, "x")), (low, high, (False,) + first[1:], second),
+                          (low, high, first, (bool(second[0]),) + second[1:]), (low, high, first, list(second)), (low, high, first, None), ([low], high, first, second), (low, high, "ab", second)):
                 self.wrong(1, "fault", samples.CLASH, ("clash", other))
         # Only if the table is in order, and not behind an obstacle.
         ring = samples.CLASH[:2] + ((samples.CLASH[2][0], samples.CLASH[2][1], ()), ((), ((2,), (3,)), ()))
@@ -144,9 +151,9 @@ class Certificates(Case):
         self.right("derivation", EXAMPLE, (1, (3,)), (0, (2,)), rows)
         self.right("refusal", EXAMPLE, (2,), (3,), [((2,), (3,))])
         for word, good in (("derivation", rows), ("refusal", [((2,), (3,))])):
-            for value in samples.ODD + [rows, tuple(rows), [list(row) for row in rows], rows[::-1], rows[1:], [((3,), (2,), (False,))], [((3,), (2,), [])]]:
+            for value in drawn.ODD + [rows, tuple(rows), [list(row) for row in rows], rows[::-1], rows[1:], [((3,), (2,), (False,))], [((3,), (2,), [])]]:
                 self.wrong(1, word, EXAMPLE, (0, "x"), (0, "y"), value)
-            for value in samples.ODD + ["xy", (4,), (0,), [2], (True, "x"), (0, (0, (0, (0, (0, (0, (0, "x")))))))]:
+            for value in drawn.ODD + ["xy", (4,), (0,), [2], (True, "x"), (0, (0, (0, (0, (0, (0, (0, "x")))))))]:
                 self.wrong(0, word, EXAMPLE, value, (2,), good)
                 self.wrong(0, word, EXAMPLE, (2,), value, good)
                 self.wrong(0, word, EXAMPLE, value, value, None)
@@ -164,7 +171,7 @@ class Certificates(Case):
         # (2, 0) grows to (0, 0), and is handed plainly to (1, 0).
         self.wrong(2, "levels", table, ((1,), (1,), (1,), ()))
         self.wrong(2, "levels", table, ((0,), (0,), (0,), ()))
-        for value in samples.ODD + [((1,), (0,), (0,)), ((1,), (0,), (0,), (), ()), ((1,), (0,), (0, 0), ()), ((1,), (0,), (), ()), [(1,), (0,), (0,), ()],
+        for value in drawn.ODD + [((1,), (0,), (0,)), ((1,), (0,), (0,), (), ()), ((1,), (0,), (0, 0), ()), ((1,), (0,), (), ()), [(1,), (0,), (0,), ()],
                                     ([1], (0,), (0,), ()), ((True,), (0,), (0,), ()), ((1,), (False,), (0,), ()), ((1,), (-1,), (0,), ()), ((1,), (0,), (0,), (0,)),
                                     ((1,), ("0",), (0,), ()), ((1,), (None,), (0,), ()), ((1,), 0, (0,), ()), ((1,), (0,), ((0,),), ())]:
             self.wrong(0, "levels", table, value)
@@ -172,6 +179,14 @@ class Certificates(Case):
             self.assertNotEqual(check(("levels", GROW, value)), RIGHT)
         self.right("levels", (), ())
         self.right("levels", samples.RING, ((), (), ()))
+
+    def test_growing_steps_to_lower_levels(self):
+        """They count for the last condition alone."""
+        table = ((("+",), (), ()), (("+",), ((0, (2, "a")),), ()), (("+",), (), ()))
+        self.right("levels", table, ((1,), (0,), (0,)))
+        self.wrong(2, "levels", table, ((0,), (1,), (1,)))
+        self.wrong(2, "levels", table, ((1,), (1,), (2,)))
+        self.wrong(1, "levels", table, ((0,), (1,), (0,)))
 
     def test_least_levels_are_the_least(self):
         """The entries one less are no levels."""
@@ -192,7 +207,7 @@ class Certificates(Case):
         self.right("growth", GROW, [inner, inner])
         for value in ([grows], [plain], [inner, plain], [plain, inner], [grows, inner], [inner, grows, inner]):
             self.wrong(1, "growth", GROW, value)
-        for value in samples.ODD + [[], [inner[:4]], [inner + (0,)], [list(inner)], (inner,), [(1, 0, 1, 0, 1)], [(True, 0, 1, 0, True)], [(1, False, 1, 0, True)],
+        for value in drawn.ODD + [[], [inner[:4]], [inner + (0,)], [list(inner)], (inner,), [(1, 0, 1, 0, 1)], [(True, 0, 1, 0, True)], [(1, False, 1, 0, True)],
                                     [(1, 0, True, 0, True)], [(1, 0, 1, False, True)], [(1, 0, 1, 0, False)], [(0, 0, 1, 0, True)], [inner, None], [inner, ()],
                                     [(1, 0, 1, 0, None)], [([1], 0, 1, 0, True)]]:
             self.wrong(0, "growth", GROW, value)
@@ -208,7 +223,7 @@ class Certificates(Case):
         for value in ([(1, "x"), (0, "x")], [(0, "x"), (1, "x")], ["x", "x"], [(0, "x"), "x", "x"], [(0, "x"), "y"], [(0, "x"), (0, "x")]):
             self.wrong(1, "road", GROW, value)
         self.right("road", GROW, ["a"])
-        for value in [one for one in samples.ODD if one != ["a"]] + [[], ((1, "x"), "x"), [(1, "x"), None], [[1, "x"]], [(1, "x"), ["x"]], [(True, "x")], [(2,)], ["xy"], "x", (1, "x"), [(1, "x", "x")]]:
+        for value in [one for one in drawn.ODD if one != ["a"]] + [[], ((1, "x"), "x"), [(1, "x"), None], [[1, "x"]], [(1, "x"), ["x"]], [(True, "x")], [(2,)], ["xy"], "x", (1, "x"), [(1, "x", "x")]]:
             self.wrong(0, "road", GROW, value)
         deep = "x"
         for _ in range(100):
@@ -234,7 +249,7 @@ class Certificates(Case):
         for at, value in ((0, 2), (0, -1), (0, False), (0, 1), (0, None), (1, 1), (1, False), (1, -1), (3, "super"), (3, "members"), (3, None), (3, ["member"]), (4, 2),
                           (4, -1), (4, False), (4, "0"), (4, 1), (6, ()), (6, (1,)), (6, (0, 0)), (6, [0]), (6, (False,)), (6, (-1,)), (6, None), (6, "0")):
             self.wrong(0, "reason", table, 0, 0, "+", [first, last[:at] + (value,) + last[at + 1:]])
-        for value in samples.ODD + [[], tuple(rows), [list(row) for row in rows], [first, last[:7]], [first, last + (0,)], [first, None], [first, last, ()]]:
+        for value in drawn.ODD + [[], tuple(rows), [list(row) for row in rows], [first, last[:7]], [first, last + (0,)], [first, None], [first, last, ()]]:
             self.wrong(0, "reason", table, 0, 0, "+", value)
         # The way of a row is not that of its product, and the last row is not the use: the first condition counts.
         self.wrong(1, "reason", table, 1, 0, "+", [first[:2] + ("+",) + first[3:], last])
@@ -242,18 +257,27 @@ class Certificates(Case):
         # A later row names itself or one behind it.
         self.wrong(1, "reason", table, 0, 0, "+", [last, first, last])
 
+    def test_numbers_below_0(self):
+        """They are none, though Python would find the last class, parameter, super and entry by them."""
+        table = ((("+", "+"), (), ((0, "get", "b"),)),)
+        self.right("reason", table, 0, 1, "+", [(0, 1, "+", "member", 0, "+", (), ())])
+        self.wrong(0, "reason", table, -1, 1, "+", [(-1, 1, "+", "member", 0, "+", (), ())])
+        self.wrong(0, "reason", table, 0, -1, "+", [(0, -1, "+", "member", 0, "+", (), ())])
+        self.wrong(0, "reason", table, 0, 1, "+", [(0, 1, "+", "member", -1, "+", (), ())])
+
     def test_a_row_that_uses_itself(self):
         table = ((("+",), (), ((0, "get", (0, "a")),)),)
-        self.wrong(1, "reason", table, 0, 0, "+", [(0, 0, "+", "member", 0, "+", (0,), (0,))])
+        for number in (0, -1, 1, False):
+            self.wrong(1, "reason", table, 0, 0, "+", [(0, 0, "+", "member", 0, "+", (0,), (number,))])
 
     def test_programs(self):
         self.right("program", EXAMPLE, PROGRAM, 1)
         self.right("program", EXAMPLE, FITTING, None)
-        for value in samples.ODD + [0, 2, True, "1", (1,), [1]]:
+        for value in drawn.ODD + [0, 2, True, "1", (1,), [1]]:
             self.wrong(1, "program", EXAMPLE, PROGRAM, value)
             if value is not None:
                 self.wrong(1, "program", EXAMPLE, FITTING, value)
-        for value in samples.ODD + [list(PROGRAM), (PROGRAM[0], list(PROGRAM[1])), PROGRAM[::-1], (((4,),), ())]:
+        for value in drawn.ODD + [list(PROGRAM), (PROGRAM[0], list(PROGRAM[1])), PROGRAM[::-1], (((4,),), ())]:
             self.wrong(0, "program", EXAMPLE, value, None)
         zero = (((2,), (3,)), (("copy", 1, 0),))
         self.right("program", EXAMPLE, zero, 0)
@@ -303,7 +327,7 @@ class Certificates(Case):
                     self.fails(NotTame, check, value)
 
     def test_not_a_certificate(self):
-        for value in samples.ODD + ["fault", "levels", None, ("levels",), ("levels", EXAMPLE), ["levels", EXAMPLE, ()], ("levels", EXAMPLE, (), ()), ("Levels", EXAMPLE, ()),
+        for value in drawn.ODD + ["fault", "levels", None, ("levels",), ("levels", EXAMPLE), ["levels", EXAMPLE, ()], ("levels", EXAMPLE, (), ()), ("Levels", EXAMPLE, ()),
                                     (["levels"], EXAMPLE, ()), (0, EXAMPLE, ()), ((), EXAMPLE, ()), ("", EXAMPLE, ()), ("derivation", EXAMPLE, "x", "x"),
                                     ("refusal", EXAMPLE, "x", "x", [], []), ("fault", EXAMPLE, "ring", [0]), ("program", EXAMPLE, PROGRAM), ("keeper", EXAMPLE, (), (), []),
                                     ("reason", EXAMPLE, 0, 0, []), ("road", EXAMPLE, [], []), ("growth", EXAMPLE), (EXAMPLE, "levels", ())]:
@@ -312,7 +336,7 @@ class Certificates(Case):
     def test_errors_in_their_order(self):
         for word, length in oracle_more.LENGTHS.items():
             rest = (None,) * (length - 2)
-            for value in samples.ODD + [list(EXAMPLE)]:
+            for value in drawn.ODD + [list(EXAMPLE)]:
                 if not oracle.table_ok(value):
                     self.fails(InvalidTable, check, (word, value) + rest)
                     self.fails(NotACertificate, check, (word, value) + rest + (None,))

@@ -53,6 +53,26 @@ class Fitting(Case):
             self.no(DEEP, 4, value)
         self.same(fitting(DEEP, 4, (0, (0, "b", (3,)), "a")), (4, "b", "a"))
 
+    def test_both_ways(self):
+        """At a "=" the part and what is given must be of one class: under each other both ways."""
+        table = ((("=",), (), ()), (("+",), ((2, "a"),), ()), (("+",), (), ()), (("+",), ((0, (1, (4,))),), ()), BARE)
+        inner = table[:3] + ((("=",), ((0, (1, "a")),), ()), ((), (), ()))
+        self.yes(inner, 3, (0, (1, "x")))
+        self.same(fitting(inner, 3, (0, (1, (2, "x")))), (3, (2, "x")))
+        for value in ((2, "x"), "x", (3, "x"), (0, "x"), (4,)):
+            self.no(inner, 3, (0, value))
+        self.yes(table, 3, (0, (1, (4,))))
+        self.no(table, 3, (0, (1, "x")))
+        self.no(table, 3, (0, (2, (4,))))
+
+    def test_one_part_with_two_signs(self):
+        """(3,) is under (2,), and not the other way round."""
+        table = ((("+", "-"), (), ()), BARE, BARE, ((), ((2,),), ()), ((), ((0, (3,), (3,)),), ()))
+        self.yes(table, 4, (0, (2,), (3,)))
+        self.yes(table, 4, (0, (3,), (3,)))
+        self.no(table, 4, (0, (2,), (2,)))
+        self.no(table, 4, (0, (1,), (3,)))
+
     def test_two_negative_signs(self):
         for value in ((0, (0, "x")), (0, (0, (2,))), (0, (0, (0, "a")))):
             self.yes(TWICE, 1, value)

@@ -6,7 +6,7 @@ import unittest
 
 from kindsunder.errors import InvalidTable, InvalidType, InvalidTypes, NotTame, Unsound
 from kindsunder.heights import are_alike, height, lowest
-from tests import oracle, oracle_more, samples
+from tests import drawn, oracle, oracle_more, samples
 from tests.base import Case
 
 EXAMPLE, RICH, ROUND = samples.EXAMPLE, samples.RICH, samples.ROUND
@@ -186,7 +186,7 @@ class Lowest(Case):
 
     def test_wrong_lists(self):
         self.same(lowest(EXAMPLE, ("x",) * 4), [0, 1, 2, 3])
-        for value in samples.ODD + [("x",) * 5, ["x"], [], "x", "ab", ("x", ["x"]), ((2,), [2]), ((True,),), ((4,),), ((2,), None)]:
+        for value in drawn.ODD + [("x",) * 5, ["x"], [], "x", "ab", ("x", ["x"]), ((2,), [2]), ((True,),), ((4,),), ((2,), None)]:
             good = type(value) is tuple and len(value) <= 4 and all([oracle.passable(EXAMPLE, one) for one in value])
             if good:
                 lowest(EXAMPLE, value)

@@ -115,7 +115,7 @@ class Programs(Case):
             self.no((BOXES, (("write", 0, name, 0),)))
 
     def test_forms(self):
-        for value in samples.ODD + [(BOXES,), (BOXES, (), ()), [BOXES, ()], (list(BOXES), ()), (BOXES, []), (BOXES, None), (None, ()), ((), ()), BOXES]:
+        for value in drawn.ODD + [(BOXES,), (BOXES, (), ()), [BOXES, ()], (list(BOXES), ()), (BOXES, []), (BOXES, None), (None, ()), ((), ()), BOXES]:
             self.no(value)
 
     def test_tables_that_are_not_sound(self):
@@ -213,7 +213,7 @@ class Misfit(Case):
             self.refuses_tables(function, good, *more)
             self.needs_sound(function, good, *more)
             self.needs_tame(function, good, *more)
-            for value in samples.ODD + [(BOXES,), (BOXES, []), (((4,),), ()), (((3,),), (("copy", 0, 1),))]:
+            for value in drawn.ODD + [(BOXES,), (BOXES, []), (((4,),), ()), (((3,),), (("copy", 0, 1),))]:
                 self.fails(InvalidProgram, function, EXAMPLE, value, *more)
         self.fails_in_order(misfit, [EXAMPLE, good], [
             (InvalidTable, 0, None), (Unsound, 0, samples.OBSTACLE_WILD), (NotTame, 0, samples.WILD), (InvalidProgram, 1, [])])
@@ -327,7 +327,7 @@ class Run(Case):
         program = (((3,),), (("jump", 0),))
         for value in (0, 1, 100, 200):
             self.same(run(EXAMPLE, program, value), ("late", 0))
-        for value in samples.ODD + [201, 1000, -1, "3", (3,), [3]]:
+        for value in drawn.ODD + [201, 1000, -1, "3", (3,), [3]]:
             if not (type(value) is int and 0 <= value <= 200):
                 self.fails(InvalidNumber, run, EXAMPLE, program, value)
 

@@ -9,7 +9,7 @@ from kindsunder.growth import levels
 from kindsunder.signs import best_signs, reason, uses, with_best
 from kindsunder.sound import clash, fault, obstacles
 from kindsunder.tables import is_table
-from tests import oracle, oracle_more, samples
+from tests import drawn, oracle, oracle_more, samples
 from tests.base import Case
 
 EXAMPLE, RICH = samples.EXAMPLE, samples.RICH
@@ -177,14 +177,14 @@ class Reason(Case):
     def test_wrong_parameters(self):
         for table in samples.TABLES[::3]:
             for number, row in enumerate(table):
-                for value in samples.ODD + [0, 1, 2, -2, "a"]:
+                for value in drawn.ODD + [0, 1, 2, -2, "a"]:
                     if oracle.whole(value) and 0 <= value < len(row[0]):
                         reason(table, number, value, "+")
                     else:
                         self.fails(InvalidParameter, reason, table, number, value, "+")
 
     def test_wrong_ways(self):
-        for value in samples.ODD + ["=", "*", "++", "-+", ("+",), ["-"], 1, "get", "super"]:
+        for value in drawn.ODD + ["=", "*", "++", "-+", ("+",), ["-"], 1, "get", "super"]:
             self.fails(InvalidSign, reason, EXAMPLE, 0, 0, value)
 
     def test_errors(self):
