@@ -26,7 +26,7 @@ def way(table, class_number, other):
 def above(table, shape, class_number):
     """The instance of the class above a class type, or None if there is none or the type is a variable."""
     scope = sound_scope(table)
-    check_type(table, shape)
+    check_type(scope.heads, shape)
     check_class(table, class_number)
     if is_variable(shape):
         return None

@@ -82,6 +82,8 @@ def parts_within(heads, value, room, leaves):
     wide = len(value)
     if not 0 < wide <= MOST_ENTRIES or value[0] not in heads[wide] or isinstance(value[0], bool) or room == 0:
         return TOO_MANY
+    if wide == 1:
+        return 1
     many = wide
     for inner in value[1:]:
         if isinstance(inner, tuple):
@@ -97,7 +99,9 @@ def depth_of(shape):
         return 0
     deepest = 0
     for inner in shape[1:]:
-        deepest = max(deepest, depth_of(inner))
+        below = depth_of(inner)
+        if below > deepest:
+            deepest = below
     return 1 + deepest
 
 

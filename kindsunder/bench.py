@@ -71,8 +71,8 @@ class Bench:
 
     def watch(self, s, t):
         """Watch a pair of types; returns its number."""
-        check_type(self._scope.rows, s)
-        check_type(self._scope.rows, t)
+        check_type(self._scope.heads, s)
+        check_type(self._scope.heads, t)
         number = len(self._watched)
         if number >= MOST_WATCHED:
             raise Full(MOST_WATCHED)

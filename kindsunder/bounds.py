@@ -1,6 +1,6 @@
 """Bounds: closed types that a closed type is to stand between."""
 
-from kindsunder.basics import heads_of, is_closed, is_tuple_of
+from kindsunder.basics import is_closed, is_tuple_of
 from kindsunder.deciding import holds
 from kindsunder.errors import InvalidType
 from kindsunder.scopes import tame_scope
@@ -27,19 +27,19 @@ def is_keeper(scope, bounds, closed):
 
 def check_bounds(scope, bounds):
     """Raise InvalidBounds if any value is not bounds."""
-    if not is_bounds(heads_of(scope.rows), bounds):
+    if not is_bounds(scope.heads, bounds):
         raise InvalidBounds("these are not bounds")
 
 
 def check_closed(scope, closed):
     """Raise InvalidType if any value is not a closed type of the table, of any size."""
-    if not is_closed(heads_of(scope.rows), closed):
+    if not is_closed(scope.heads, closed):
         raise InvalidType("this is not a closed type of the table")
 
 
 def are_bounds(table, value):
     """True if the value is bounds."""
-    return is_bounds(heads_of(tame_scope(table).rows), value)
+    return is_bounds(tame_scope(table).heads, value)
 
 
 def keeps(table, bounds, closed):

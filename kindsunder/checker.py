@@ -107,7 +107,7 @@ def wrong_fault(table, entries):
 def wrong_derivation(scope, entries):
     """The first condition of "derivation" that does not hold, or None."""
     s, t, rows = entries
-    if not may_pass(scope.rows, s) or not may_pass(scope.rows, t):
+    if not may_pass(scope.heads, s) or not may_pass(scope.heads, t):
         return 0
     return None if does_derive(scope, s, t, rows) else 1
 
@@ -115,7 +115,7 @@ def wrong_derivation(scope, entries):
 def wrong_refusal(scope, entries):
     """The first condition of "refusal" that does not hold, or None."""
     s, t, road = entries
-    if not may_pass(scope.rows, s) or not may_pass(scope.rows, t):
+    if not may_pass(scope.heads, s) or not may_pass(scope.heads, t):
         return 0
     return None if is_road(scope, s, t, road) else 1
 

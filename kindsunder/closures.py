@@ -15,16 +15,15 @@ def moves_of(table, shape):
 
 def moves(table, shape):
     """The list of the types to which the type moves: its arguments, then its direct supertypes."""
-    check_table(table)
-    check_type(table, shape)
+    check_type(check_table(table), shape)
     return moves_of(table, shape)
 
 
 def closure(table, types):
     """The closure of the types, a list in ascending order of the texts."""
-    check_table(table)
+    heads = check_table(table)
     check_tame(table)
-    if not are_types(table, types, MOST_TYPES):
+    if not are_types(heads, types, MOST_TYPES):
         raise InvalidTypes("this is not a tuple of at most four types of the table")
     found = {}
     waiting = list(types)

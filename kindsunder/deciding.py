@@ -32,8 +32,8 @@ def holds(scope, s, t):
 def pair_scope(table, s, t):
     """The scope of a sound and tame table. Raises InvalidType for two types, behind the errors of the table."""
     scope = tame_scope(table)
-    check_type(table, s)
-    check_type(table, t)
+    check_type(scope.heads, s)
+    check_type(scope.heads, t)
     return scope
 
 

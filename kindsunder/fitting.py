@@ -63,5 +63,5 @@ def fitting(table, class_number, shape):
     """Any type of the class under the type, or None if there is none."""
     scope = tame_scope(table)
     check_class(table, class_number)
-    check_type(table, shape)
+    check_type(scope.heads, shape)
     return fitted(scope, class_number, shape)

@@ -36,6 +36,6 @@ def is_lowest(scope, types, shape):
 def lowest(table, types):
     """The ascending list of the numbers of the lowest types."""
     scope = tame_scope(table)
-    if not are_types(table, types, MOST_TYPES):
+    if not are_types(scope.heads, types, MOST_TYPES):
         raise InvalidTypes("this is not a tuple of at most four types of the table")
     return [number for number, shape in enumerate(types) if is_lowest(scope, types, shape)]

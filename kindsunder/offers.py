@@ -20,5 +20,5 @@ def offers_of(scope, shape):
 def offers(table, shape):
     """The list of the tuples (name, use, type) that the type offers, in ascending order of the names."""
     scope = sound_scope(table)
-    check_type(table, shape)
+    check_type(scope.heads, shape)
     return offers_of(scope, shape)

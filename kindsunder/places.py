@@ -72,15 +72,13 @@ def sign_of(table, shape, place):
 
 def parts(table, shape):
     """The list of the tuples (place, part) of a type, in ascending order of the places."""
-    check_table(table)
-    check_type(table, shape)
+    check_type(check_table(table), shape)
     return parts_of(shape)
 
 
 def sign_at(table, shape, place):
     """The sign of a place in a type."""
-    check_table(table)
-    check_type(table, shape)
+    check_type(check_table(table), shape)
     if not is_place(shape, place):
         raise InvalidPlace("this is not a place in the type")
     return sign_of(table, shape, place)

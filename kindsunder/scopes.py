@@ -8,14 +8,15 @@ from kindsunder.tables import check_table
 
 
 class Scope:
-    """A sound table, and the one instance of each class above each class.
+    """A sound table, its heads, and the one instance of each class above each class.
 
     The classes of the table are its rows; the instances are kept by the lower class, then by the upper one. Known
     are pairs of types of which one has found out whether the first one is under the second one.
     """
 
-    def __init__(self, rows, instances):
+    def __init__(self, rows, heads, instances):
         self.rows = rows
+        self.heads = heads
         self.instances = {low: {high: some[0] for high, some in found.items()} for low, found in instances.items()}
         self.known = {}
 
@@ -29,11 +30,11 @@ class Scope:
 
 def sound_scope(table):
     """The scope of a table. Raises InvalidTable or Unsound."""
-    check_table(table)
+    heads = check_table(table)
     found, instances = judged(table)
     if found is not None:
         raise Unsound(found)
-    return Scope(table, instances)
+    return Scope(table, heads, instances)
 
 
 def tame_scope(table):

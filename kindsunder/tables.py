@@ -1,7 +1,7 @@
 """Tables of classes, and the types of a table."""
 
-from kindsunder.basics import LETTERS, depth_of, heads_of, is_number, is_tuple_of, is_tuple_up_to, is_variable
-from kindsunder.basics import parts_within, put, text_of
+from kindsunder.basics import LETTERS, depth_of, heads_of, is_number, is_tuple_up_to, is_variable, parts_within
+from kindsunder.basics import put, text_of
 from kindsunder.errors import InvalidArguments, InvalidClass, InvalidTable, InvalidType
 
 SIGNS = ("+", "-", "=", "*")
@@ -27,7 +27,7 @@ def is_sign(value):
 
 def are_signs(value):
     """True if any value is a tuple of at most two signs."""
-    if not is_tuple_up_to(value, MOST_SIGNS):
+    if not isinstance(value, tuple) or len(value) > MOST_SIGNS:
         return False
     for sign in value:
         if sign not in SIGNS:
@@ -35,11 +35,19 @@ def are_signs(value):
     return True
 
 
+def is_name(value):
+    """True if any value is an integer from 0 to 9."""
+    return value in NAMES and not isinstance(value, bool)
+
+
 def is_frame(value):
     """True if any value has the form of a class, whatever its supers and members are."""
-    if not is_tuple_of(value, 3) or not are_signs(value[0]):
+    if not isinstance(value, tuple) or len(value) != 3 or not are_signs(value[0]):
         return False
-    return is_tuple_up_to(value[1], MOST_SUPERS) and is_tuple_up_to(value[2], MOST_MEMBERS)
+    supers, members = value[1:]
+    if not isinstance(supers, tuple) or len(supers) > MOST_SUPERS:
+        return False
+    return isinstance(members, tuple) and len(members) <= MOST_MEMBERS
 
 
 def is_super(heads, letters, value):
@@ -53,65 +61,50 @@ def is_super(heads, letters, value):
     return True
 
 
-def is_inner(heads, letters, value):
-    """True if any value is a type that may stand in a class with these parameters."""
-    if not isinstance(value, tuple):
-        return value in letters
-    leaves = []
-    if parts_within(heads, value, DEPTH_WITHIN, leaves) > PARTS_WITHIN:
-        return False
+def are_members(heads, letters, value):
+    """True if the entries of a tuple may be the members of a class with these parameters."""
+    names, leaves = [], []
+    for member in value:
+        if not isinstance(member, tuple) or len(member) != 3:
+            return False
+        name, use, shape = member
+        if use not in USES or name not in NAMES or isinstance(name, bool) or name in names:
+            return False
+        names.append(name)
+        if not isinstance(shape, tuple):
+            leaves.append(shape)
+        elif parts_within(heads, shape, DEPTH_WITHIN, leaves) > PARTS_WITHIN:
+            return False
     for leaf in leaves:
         if leaf not in letters:
             return False
     return True
 
 
-def is_name(value):
-    """True if any value is an integer from 0 to 9."""
-    return value in NAMES and not isinstance(value, bool)
-
-
-def is_member(heads, letters, value):
-    """True if any value is a tuple that may be a member of a class with these parameters."""
-    if not is_tuple_of(value, 3):
-        return False
-    name, use, shape = value
-    return use in USES and is_name(name) and is_inner(heads, letters, shape)
-
-
-def is_filled(heads, row):
-    """True if the supers and the members of what has the form of a class are right."""
-    signs, supers, members = row
-    letters = LETTERS[:len(signs)]
-    for one in supers:
-        if not is_super(heads, letters, one):
-            return False
-    for one in members:
-        if not is_member(heads, letters, one):
-            return False
-    return len({member[0] for member in members}) == len(members)
-
-
-def is_table(value):
-    """True if any value is a table."""
-    if not is_tuple_up_to(value, MOST_CLASSES):
-        return False
+def table_heads(value):
+    """The heads of any value that is a table, or None. Nearly every call begins with this, so it is to be quick."""
+    if not isinstance(value, tuple) or len(value) > MOST_CLASSES:
+        return None
     for row in value:
         if not is_frame(row):
-            return False
+            return None
     heads = heads_of(value)
-    for row in value:
-        if not is_filled(heads, row):
-            return False
-    return True
+    for signs, supers, members in value:
+        letters = LETTERS[:len(signs)]
+        for one in supers:
+            if not is_super(heads, letters, one):
+                return None
+        if members and not are_members(heads, letters, members):
+            return None
+    return heads
 
 
-def may_pass(table, value):
-    """True if any value is a type of a table that may be passed."""
+def may_pass(heads, value):
+    """True if any value is a type, of a table with these heads, that may be passed."""
     if not isinstance(value, tuple):
         return is_variable(value)
     leaves = []
-    if parts_within(heads_of(table), value, DEPTH_PASSED, leaves) > PARTS_PASSED:
+    if parts_within(heads, value, DEPTH_PASSED, leaves) > PARTS_PASSED:
         return False
     for leaf in leaves:
         if not is_variable(leaf):
@@ -119,20 +112,22 @@ def may_pass(table, value):
     return True
 
 
-def are_types(table, value, most):
+def are_types(heads, value, most):
     """True if any value is a tuple of at most so many types that may be passed."""
-    return is_tuple_up_to(value, most) and all(may_pass(table, one) for one in value)
+    return is_tuple_up_to(value, most) and all(may_pass(heads, one) for one in value)
 
 
 def check_table(table):
-    """Raise InvalidTable if any value is not a table."""
-    if not is_table(table):
+    """Return the heads of a table. Raises InvalidTable if any value is none."""
+    heads = table_heads(table)
+    if heads is None:
         raise InvalidTable("this is not a table")
+    return heads
 
 
-def check_type(table, shape):
-    """Raise InvalidType if any value is not a type of the table that may be passed."""
-    if not may_pass(table, shape):
+def check_type(heads, shape):
+    """Raise InvalidType if any value is not a type, of a table with these heads, that may be passed."""
+    if not may_pass(heads, shape):
         raise InvalidType("this is not a type of the table")
 
 
@@ -142,30 +137,32 @@ def check_class(table, class_number):
         raise InvalidClass("this is not the number of a class")
 
 
+def is_table(value):
+    """True if any value is a table."""
+    return table_heads(value) is not None
+
+
 def is_type(table, value):
     """True if any value is a type of the table, with a depth of at most 6 and at most 25 parts."""
-    check_table(table)
-    return may_pass(table, value)
+    return may_pass(check_table(table), value)
 
 
 def depth(table, shape):
     """The depth of a type."""
-    check_table(table)
-    check_type(table, shape)
+    check_type(check_table(table), shape)
     return depth_of(shape)
 
 
 def text(table, shape):
     """The text of a type."""
-    check_table(table)
-    check_type(table, shape)
+    check_type(check_table(table), shape)
     return text_of(shape)
 
 
 def put_in(table, shape, arguments):
     """The type with the arguments put into it."""
-    check_table(table)
-    check_type(table, shape)
-    if not are_types(table, arguments, len(LETTERS)):
+    heads = check_table(table)
+    check_type(heads, shape)
+    if not are_types(heads, arguments, len(LETTERS)):
         raise InvalidArguments("this is not a tuple of at most two types of the table")
     return put(shape, arguments)

@@ -1,6 +1,6 @@
 """Which pairs of types a pair needs, and what a derivation and a refusal of a pair are."""
 
-from kindsunder.basics import heads_of, is_number, is_shape, is_tuple_of
+from kindsunder.basics import is_number, is_shape, is_tuple_of
 from kindsunder.scopes import sound_scope
 from kindsunder.tables import check_type
 
@@ -44,8 +44,7 @@ def is_derived(scope, pairs, s, t, used):
 
 def are_rows(scope, value):
     """True if any value is a derivation of any pair of types, of any size."""
-    heads = heads_of(scope.rows)
-    if not isinstance(value, list) or not value or not all(is_row(heads, row) for row in value):
+    if not isinstance(value, list) or not value or not all(is_row(scope.heads, row) for row in value):
         return False
     pairs = []
     for s, t, used in value:
@@ -74,8 +73,7 @@ def does_derive(scope, s, t, value):
 
 def is_road(scope, s, t, value):
     """True if any value is a refusal of this pair of types."""
-    heads = heads_of(scope.rows)
-    if not isinstance(value, list) or not value or not all(is_pair(heads, pair) for pair in value):
+    if not isinstance(value, list) or not value or not all(is_pair(scope.heads, pair) for pair in value):
         return False
     return value[0] == (s, t) and does_refuse(scope, value)
 
@@ -83,22 +81,22 @@ def is_road(scope, s, t, value):
 def needs(table, s, t):
     """The list of the pairs that (s, t) needs, or None if it is impossible."""
     scope = sound_scope(table)
-    check_type(table, s)
-    check_type(table, t)
+    check_type(scope.heads, s)
+    check_type(scope.heads, t)
     return needs_of(scope, s, t)
 
 
 def is_derivation(table, s, t, value):
     """True if any value is a derivation of (s, t)."""
     scope = sound_scope(table)
-    check_type(table, s)
-    check_type(table, t)
+    check_type(scope.heads, s)
+    check_type(scope.heads, t)
     return does_derive(scope, s, t, value)
 
 
 def is_refusal(table, s, t, value):
     """True if any value is a refusal of (s, t)."""
     scope = sound_scope(table)
-    check_type(table, s)
-    check_type(table, t)
+    check_type(scope.heads, s)
+    check_type(scope.heads, t)
     return is_road(scope, s, t, value)
