@@ -1,6 +1,8 @@
 """Rules of the language of the package that can be read off its files: sizes, characters, imports, names."""
 
 import ast
+import builtins
+import doctest
 import pathlib
 import unittest
 
@@ -53,6 +55,34 @@ class Source(unittest.TestCase):
                 self.assertNotIsInstance(node, NODES, path.name)
                 if isinstance(node, ast.Call) and isinstance(node.func, ast.Name):
                     self.assertNotIn(node.func.id, BARRED_CALLS, f"{path.name}:{node.lineno}")
+
+    def test_names(self):
+        """No parameter or variable has the name of an import, a class or a builtin; each import is used."""
+        for path, tree in self.trees():
+            imports = [one.name for node in tree.body if isinstance(node, ast.ImportFrom) for one in node.names]
+            classes = [node.name for node in tree.body if isinstance(node, ast.ClassDef)]
+            functions = [node.name for node in tree.body if isinstance(node, ast.FunctionDef)]
+            self.assertEqual(len(imports + classes + functions), len(set(imports + classes + functions)), path.name)
+            names = [node for node in ast.walk(tree) if isinstance(node, ast.Name)]
+            self.assertEqual(set(imports) - {node.id for node in names}, set(), path.name)
+            bound = [node.id for node in names if isinstance(node.ctx, ast.Store)]
+            bound += [node.arg for node in ast.walk(tree) if isinstance(node, ast.arg)]
+            self.assertEqual(set(bound) & (set(imports + classes) | set(dir(builtins))), set(), path.name)
+
+    def test_methods_and_attributes(self):
+        """No name is a method, or a property, and an attribute."""
+        methods, attributes = set(), set()
+        for path, tree in self.trees():
+            for node in ast.walk(tree):
+                if isinstance(node, ast.ClassDef):
+                    methods |= {one.name for one in node.body if isinstance(one, ast.FunctionDef)}
+                if isinstance(node, ast.Attribute) and isinstance(node.ctx, ast.Store):
+                    attributes.add(node.attr)
+        self.assertEqual(methods & attributes, set())
+
+    def test_what_the_readme_shows(self):
+        failed, looked = doctest.testfile(str(FOLDER.parent / "README.md"), module_relative=False)
+        self.assertEqual((failed, looked > 5), (0, True))
 
     def test_no_file_imports_itself_by_way_of_others(self):
         above = {}
