@@ -57,13 +57,17 @@ class Bench:
         grown = members + ((name, use, type_value),)
         self._scope = tame_scope(with_class(table, class_number, (signs, supers, grown)))
 
-    def set_signs(self, class_number, signs):
-        """Change the signs of a class."""
+    def _with_signs(self, class_number, signs):
+        """The scope of the table with other signs of a class. Raises what set_signs does."""
         table = self._scope.rows
         check_class(table, class_number)
         if not are_signs(signs) or len(signs) != len(table[class_number][0]):
             raise InvalidSign("this is not a tuple of as many signs as the class has parameters")
-        self._scope = tame_scope(with_class(table, class_number, (signs,) + table[class_number][1:]))
+        return tame_scope(with_class(table, class_number, (signs,) + table[class_number][1:]))
+
+    def set_signs(self, class_number, signs):
+        """Change the signs of a class."""
+        self._scope = self._with_signs(class_number, signs)
 
     def improve(self):
         """Change all signs to the best ones."""

@@ -11,7 +11,8 @@ class Scope:
     """A sound table, its heads, and the one instance of each class above each class.
 
     The classes of the table are its rows; the instances are kept by the lower class, then by the upper one. Known
-    are pairs of types of which one has found out whether the first one is under the second one.
+    are pairs of types of which one has found out whether the first one is under the second one, pieces are splits
+    of single types, and branches those of bounds by all classes.
     """
 
     def __init__(self, rows, heads, instances):
@@ -19,6 +20,8 @@ class Scope:
         self.heads = heads
         self.instances = {low: {high: some[0] for high, some in found.items()} for low, found in instances.items()}
         self.known = {}
+        self.pieces = {}
+        self.branches = {}
 
     def raised(self, shape, class_number):
         """The instance of the class above a class type, or None."""
