@@ -4,8 +4,8 @@ import copy
 import itertools
 import unittest
 
-from kindsunder import errors
-from tests import oracle, samples
+from kindsunder import errors, wrongs
+from tests import oracle, oracle_more, samples
 
 
 def lists_in(value):
@@ -92,6 +92,34 @@ class Case(unittest.TestCase):
                 function(*arguments)
             else:
                 self.fails(errors.InvalidClass, function, *arguments)
+
+    def refuses(self, error, function, good, index, fine, values):
+        """The error for each value at this index of the arguments that is not fine; no error for those that are."""
+        for value in values:
+            arguments = list(good)
+            arguments[index] = value
+            if fine(value):
+                function(*arguments)
+            else:
+                self.fails(error, function, *arguments)
+
+    def refuses_bounds(self, function, good, index):
+        """InvalidBounds for values at this index that are not bounds."""
+        table = good[0]
+        self.refuses(wrongs.InvalidBounds, function, good, index, lambda value: oracle_more.bounds_ok(table, value), samples.ODD + [
+            (), ((), (), ()), [(), ()], ([], ()), ((), []), (((3,), (2,)), ()), ((), ((2,), (2,))), (((2,), (0, (2,))), ()), (("a",), ()),
+            ((), ((0, "a"),)), (((True,),), ()), (((4,),), ()), (((0,),), ()), (((2,), None), ()), ((2,), ()), (((2,),), ()), ((), ((2,), (3,)))])
+
+    def refuses_closed(self, function, good, index):
+        """InvalidType for values at this index that are not closed types of the table."""
+        table = good[0]
+        self.refuses(errors.InvalidType, function, good, index, lambda value: oracle_more.closed_ok(table, value), samples.ODD + [
+            (), "a", "x", (0, "a"), (0, (0, "b")), (2, (2,)), (0,), (9,), (True,), (0, (True,)), [2], (0, [2]), ((2,),), (0, (2,)), (3,)])
+
+    def refuses_numbers(self, function, good, index, most):
+        """InvalidNumber for values at this index that are not integers from 0 to the greatest one."""
+        self.refuses(errors.InvalidNumber, function, good, index, lambda value: oracle.whole(value) and 0 <= value <= most, samples.ODD + [
+            (), 0, most, most + 1, -1, "0", [1], (1,), most // 2])
 
     def needs_sound(self, function, *rest):
         """Unsound, with a right fault of the first form, for each table with a fault, whatever else is wrong."""
