@@ -75,3 +75,109 @@ def bounds_of(table, many, seed=303, most=2):
 def cases(many, seed=304, most=2):
     """Tuples (table, bounds) for all tables."""
     return [(table, bounds) for table in TABLES for bounds in bounds_of(table, many, seed, most)]
+
+
+def pattern(rng, table, names):
+    """A type for a signature with these letters, or None if there is none."""
+    counts = oracle.counts_of(table)
+    if not names and 0 not in counts:
+        return None
+    if names and rng.random() < 0.25:
+        return rng.choice(names)
+    return samples.any_type(rng, counts, names, rng.choice((1, 1, 2, 2, 3)), 5)
+
+
+def signature(rng, table):
+    """A signature, or None."""
+    many = rng.choice((0, 1, 1, 2, 2))
+    names = ["a", "b"][:many]
+    found = [pattern(rng, table, names) for _ in range(rng.choice((0, 1, 1, 2, 2, 3)) + 1)]
+    return None if None in found else (many, tuple(found[1:]), found[0])
+
+
+def fitting(rng, table, pool, shape):
+    """A closed type that is under the type with closed types for its letters, mostly."""
+    chosen = [rng.choice(pool), rng.choice(pool)]
+    upper = oracle.put(shape, chosen)
+    some = [one for one in pool if oracle_bounds.under(table, one, upper)]
+    if some and rng.random() < 0.6:
+        return rng.choice(some)
+    return upper if rng.random() < 0.7 else rng.choice(pool)
+
+
+def call(rng, table, pool):
+    """A call, or None."""
+    one = signature(rng, table)
+    if one is None:
+        return None
+    arguments = tuple([fitting(rng, table, pool, shape) for shape in one[1]])
+    wish = None
+    if rng.random() < 0.5:
+        wish = oracle.put(one[2], [rng.choice(pool), rng.choice(pool)]) if rng.random() < 0.7 else rng.choice(pool)
+    return (one, arguments, wish)
+
+
+def calls(many, seed):
+    """Tuples (table, call) for all tables with closed types."""
+    rng = random.Random(seed)
+    found = []
+    for table in TABLES:
+        pool = pool_of(table, 12)
+        for _ in range(many if pool else 0):
+            one = call(rng, table, pool)
+            if one is not None:
+                found.append((table, one))
+    return found
+
+
+def once(rng, table, names, deepest=3):
+    """A type in which each of the letters stands at most once, with a depth of at most 3 and at most 5 parts."""
+    counts = oracle.counts_of(table)
+    for _ in range(60):
+        shape = rng.choice(names) if names and rng.random() < 0.25 else samples.any_type(rng, counts, names, rng.choice((1, 2, 2, deepest)), 5)
+        if len(set(oracle.letters(shape))) == len(oracle.letters(shape)):
+            return shape
+    return (counts.index(0),)
+
+
+def half(rng, table, pool):
+    """A half; its limits are often those that a split has."""
+    shape = once(rng, table, rng.choice((["a"], ["a", "b"], ["b"])))
+    return (shape, tuple([near(rng, table, pool, 1) for _ in oracle.letters(shape)]))
+
+
+def halves(many, seed):
+    """Tuples (table, first, second) of halves for all tables with closed types, often about the same closed type."""
+    rng = random.Random(seed)
+    found = []
+    for table in TABLES:
+        pool = pool_of(table, 10)
+        for _ in range(many if pool else 0):
+            first, second = half(rng, table, pool), half(rng, table, pool)
+            if rng.random() < 0.3:
+                second = (first[0], tuple([near(rng, table, pool, 1) for _ in first[1]]))
+            found.append((table, first, second))
+    return found
+
+
+def nested(rng, table, pool):
+    """A nested call, or None."""
+    inner, outer = call(rng, table, pool), call(rng, table, pool)
+    if inner is None or outer is None or not outer[0][1]:
+        return None
+    number = rng.randrange(len(outer[0][1]))
+    for shape in (inner[0][2], outer[0][1][number]):
+        if len(set(oracle.letters(shape))) < len(oracle.letters(shape)):
+            return None
+    return (inner[0], inner[1], outer[0], number, outer[1][:number] + outer[1][number + 1:], outer[2])
+
+
+def nested_calls(many, seed):
+    """Tuples (table, call) with nested calls."""
+    rng = random.Random(seed)
+    found = []
+    for table in TABLES:
+        pool = pool_of(table, 12)
+        some = [nested(rng, table, pool) for _ in range(many if pool else 0)]
+        found += [(table, one) for one in some if one is not None]
+    return found
