@@ -8,7 +8,7 @@ import random
 import unittest
 
 from kindsunder import errors
-from tests import oracle, samples
+from tests import oracle, oracle_bounds, samples
 from tests.base import Case
 
 FUNCTIONS = {
@@ -33,17 +33,45 @@ FUNCTIONS = {
     "programs": {"is_program": "table value", "misfit": "table program", "run": "table program number"},
     "checker": {"check": "certificate"},
     "bounds": {"are_bounds": "table value", "keeps": "table bounds closed"},
+    "splits": {"split": "table bounds class_number", "bar": "table bounds class_number",
+               "is_bar": "table bounds class_number value", "family": "table bounds"},
+    "keepers": {"keeper": "table bounds", "floors_of": "table bounds", "are_floors": "table bounds value"},
+    "counts": {"count": "table bounds number", "total": "table bounds", "pump": "table bounds",
+               "is_pump": "table bounds value", "deep_keeper": "table bounds number"},
+    "ranks": {"keeper_at": "table bounds number place", "place_of": "table bounds number closed"},
+    "extremes": {"covers": "table bounds other", "outside": "table bounds other", "are_covers": "table bounds other value",
+                 "bottom_of": "table bounds", "top_of": "table bounds", "needless": "table bounds", "lean": "table bounds"},
+    "calls": {"is_call": "table value", "opened": "table call", "call_bar": "table call", "first_choice": "table call",
+              "fits": "table call choice", "best_choice": "table call"},
+    "bridges": {"is_half": "table value", "is_crossing": "table value", "needed_crossings": "table crossing",
+                "bridge": "table first second", "gap": "table first second", "is_gap": "table first second value",
+                "is_nested": "table value", "nested": "table call", "nested_halves": "table call"},
+    "records": {"judge": "record"},
 }
+BOUNDED = [name for module in ("bounds", "splits", "keepers", "counts", "ranks", "extremes", "calls", "bridges")
+           for name in FUNCTIONS[module]]
 SOUND = ("above", "needs", "is_derivation", "is_refusal", "is_under", "derivation", "refusal", "joined", "height", "are_alike",
-         "lowest", "fitting", "offers", "misfit", "run", "are_bounds", "keeps")
-TAME = ("closure", "is_under", "derivation", "refusal", "height", "are_alike", "lowest", "fitting", "misfit", "run",
-        "are_bounds", "keeps")
+         "lowest", "fitting", "offers", "misfit", "run") + tuple(BOUNDED)
+TAME = ("closure", "is_under", "derivation", "refusal", "height", "are_alike", "lowest", "fitting", "misfit",
+        "run") + tuple(BOUNDED)
 
 
 def functions():
     for module, names in FUNCTIONS.items():
         for name, words in names.items():
             yield name, getattr(importlib.import_module("kindsunder." + module), name), words.split()
+
+
+def bounded_values(table, shape):
+    """Values for the arguments of the functions of stages 16 to 23, about closed types of the table."""
+    some = oracle_bounds.closed_types(table, 2)
+    low, high = (some[0], some[-1]) if some else ((0,), (0,))
+    half = ("b", (((low,), ()),))
+    signature = (1, ("a", "a"), "a")
+    return {"bounds": ((low,), ()), "other": ((), (high,)), "closed": low, "place": 0, "choice": (high,), "first": half,
+            "second": ((high, ()) if len(high) < 3 else half), "crossing": (half, half, "under"), "number": oracle.size(shape) % 7,
+            "call": random.Random(oracle.size(shape)).choice((
+                (signature, (low, high), None), (signature, (low, low), high), (signature, (low, high), signature, 0, (high,), None)))}
 
 
 def outcome(function, arguments):
@@ -114,7 +142,9 @@ class Interface(Case):
                 if words[0] == "table":
                     for shape in shapes[-3:]:
                         own = {"shape": shape, "s": shape, "t": shape, "types": (shape, "x"), "arguments": (shape,)}
-                        calls.append((function, [table] + [own.get(word, values[word]) for word in words[1:]]))
+                        if name in BOUNDED:
+                            own = bounded_values(table, shape)
+                        calls.append((function, [table] + [own.get(word, values.get(word)) for word in words[1:]]))
         before = [outcome(*call) for call in calls]
         places = list(range(len(calls)))
         random.Random(33).shuffle(places)
