@@ -40,28 +40,23 @@ def tallies_of(web, number):
 
 
 def links_of(web, number):
-    """The list of tuples (class, parameter, bounds) that rows of a pump can lead to from bounds that are not barren."""
+    """The list of tuples (class, parameter, bounds) for the rows of pumps with these bounds; none for barren ones."""
     return [(class_number, parameter, child) for class_number in web.heads_at(number)
             for parameter, child in enumerate(web.branches[number][class_number])]
 
 
 def bounded(web):
-    """The bounds that have keepers, but no pump, each one behind all those that its links lead to."""
+    """The bounds that have no pump, each one behind all those that its links lead to."""
     found = []
-    waiting = [number for number, first in enumerate(web.firsts) if first is not None]
+    waiting = list(range(len(web.rows)))
     before = len(waiting) + 1
     while len(waiting) < before:
         before = len(waiting)
         for number in waiting:
-            if all(child in found for _, _, child in links_of(web, number)):
+            if all(link[2] in found for link in links_of(web, number)):
                 found.append(number)
         waiting = [number for number in waiting if number not in found]
     return found
-
-
-def has_pump(web, ended):
-    """True if the first bounds of a web have a pump, by the list of those that have keepers, but none."""
-    return web.firsts[0] is not None and 0 not in ended
 
 
 def circle_of(web, ended):
@@ -148,7 +143,7 @@ def total(table, bounds):
     """The number of all keepers of the bounds, or None if there is a pump."""
     web = web_of(table, bounds)
     ended = bounded(web)
-    if has_pump(web, ended):
+    if 0 not in ended:
         return None
     counts = [0 for _ in web.rows]
     for number in ended:
@@ -160,7 +155,7 @@ def pump(table, bounds):
     """Any pump of the bounds, or None if there is none."""
     web = web_of(table, bounds)
     ended = bounded(web)
-    if not has_pump(web, ended):
+    if 0 in ended:
         return None
     links, _ = circle_of(web, ended)
     here, class_number, parameter = links[-1]
@@ -179,7 +174,7 @@ def deep_keeper(table, bounds, number):
     web = web_of(table, bounds)
     check_number(number, MOST_DEEP)
     ended = bounded(web)
-    if has_pump(web, ended):
+    if 0 not in ended:
         return pumped(web, ended, number)
     if web.firsts[0] is None:
         return None
