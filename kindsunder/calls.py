@@ -104,13 +104,11 @@ def sides_of(scope, result, letter):
 
 
 def best_of(web, number, sides):
-    """A keeper of bounds that is an end of all of them on these sides, or None."""
+    """A keeper of bounds, which have one, that is an end of all of them on these sides, or None."""
     if len(sides) == 1:
         return extreme_of(web, number, sides[0])
     closed = web.firsts[number]
-    if closed is not None and all(does_cover(web, number, bounds_of_side(side, closed)) for side in sides):
-        return closed
-    return None
+    return closed if all(does_cover(web, number, bounds_of_side(side, closed)) for side in sides) else None
 
 
 def is_call(table, value):

@@ -298,6 +298,28 @@ class DeskMarks(Case):
             self.same([desk.unknown(), desk.bounds_of(number)], [number, NONE])
         self.same(desk.mark(), 1)
 
+    def test_marks_made_after_a_return(self):
+        """A mark that is made after a return has what there was then, not what an earlier one with its number had."""
+        desk = desk_of(EXAMPLE)
+        desk.mark()
+        for number in range(2):
+            desk.unknown()
+            desk.bound(number, "lower", (3,))
+            desk.mark()
+        desk.back(0)
+        self.same(desk.mark(), 1)
+        desk.unknown()
+        desk.bound(0, "upper", (3,))
+        self.same(desk.mark(), 2)
+        desk.unknown()
+        desk.moved()
+        for number, wanted in ((2, [((), ((3,),))]), (2, [((), ((3,),))]), (1, []), (1, []), (0, [])):
+            desk.back(number)
+            self.same([desk.bounds_of(at) for at in range(len(wanted))], wanted)
+            self.fails(InvalidUnknown, desk.bounds_of, len(wanted))
+            if number == 2:
+                self.same(desk.moved(), [(0, (3,))])
+
     def test_bounds_come_back(self):
         desk = desk_of(EXAMPLE)
         desk.unknown()

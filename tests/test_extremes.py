@@ -110,6 +110,15 @@ class AreCovers(Case):
         self.wanted(EXAMPLE, NONE, NONE, ([], [NONE]), False)
         self.wanted((), NONE, NONE, ([], [NONE]), True)
 
+    def test_sides(self):
+        """Only "lower" and "upper" are sides, even where the row would be right on one of them."""
+        for side, bounds, other in (("lower", (((2,),), ()), (((3,),), ())), ("upper", ((), ((2,),)), ((), ((2,),)))):
+            row = (bounds, side, other[0][0] if other[0] else other[1][0])
+            self.wanted(EXAMPLE, bounds, other, ([row], []), True)
+            for one in ("Lower", "Upper", "", " ", "low", "lowerupper", 0, 1, True, None, (side,), [side], "+"):
+                self.wanted(EXAMPLE, bounds, other, ([row, (bounds, one, row[2])], []), False)
+                self.wanted(EXAMPLE, bounds, NONE, ([(bounds, one, row[2])], []), False)
+
     def test_rows_that_rest_on_others(self):
         """A row for each type of the split, with the bounds and the side that belong to it."""
         table = ((("-",), (), ()), ((), (), ()), ((), ((1,),), ()))
