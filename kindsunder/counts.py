@@ -14,7 +14,7 @@ MOST_DEEP = 30
 def check_number(number, most):
     """Raise InvalidNumber if any value is not an integer from 0 to the greatest one."""
     if not is_number(number, 0, most):
-        raise InvalidNumber("this is not an integer from 0 to the greatest one")
+        raise InvalidNumber(f"this is not an integer from 0 to {most}")
 
 
 def combined(counts, children):

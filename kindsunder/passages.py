@@ -41,9 +41,8 @@ class Passage:
     def _explore(self, number):
         """Find out what a crossing needs, and whether it is met by what is met already."""
         crossing = self.crossings[number]
-        found = needed_of(self.scope, crossing)
-        if any(self._first(bounds) is None for half in crossing[:2] for bounds in half[1]):
-            found = None
+        poor = any(self._first(bounds) is None for half in crossing[:2] for bounds in half[1])
+        found = None if poor else needed_of(self.scope, crossing)
         self.needed.append(None if found is None else [self._numbered(one) for one in found])
         for inner in self.needed[number] or []:
             self.users[inner].append(number)

@@ -22,7 +22,6 @@ class Ranks:
             if place < many:
                 return (class_number,) + self.keepers(children, number - 1, place)
             place -= many
-        return None
 
     def keepers(self, children, number, place):
         """The keepers of some bounds that stand at this place of all such tuples."""

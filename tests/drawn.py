@@ -4,8 +4,8 @@ import random
 
 from tests import oracle, oracle_more, samples
 
-# Odd values, the empty tuple among them, which is no odd one in place of a table.
-ODD = samples.ODD + [()]
+# Odd values, the empty tuple among them, which is no odd one in place of a table; and deeper ones, for stages 16 to 25.
+ODD = samples.ODD + [(), samples.nested(0, 30), samples.nested((), 30, list), samples.nested((0,), 29), samples.nested(((2,), (3,)), 28)]
 SPARE = ODD + [
     0, 1, 2, 3, 4, 7, 12, 13, 200, 201, "a", "x", "+", "-", "=", "*", "get", "put", "both", "new", "copy", "read", "write",
     "ask", "jump", "super", "member", "ring", "obstacle", "clash", "name", (0,), (1,), (2,), (3,), (0, (2,)), (1, (3,)),

@@ -2,6 +2,7 @@
 
 import ast
 import copy
+import doctest
 import importlib
 import inspect
 import random
@@ -83,6 +84,10 @@ def outcome(function, arguments):
 
 
 class Interface(Case):
+    def test_every_example(self):
+        failed, looked = doctest.testfile("examples.txt")
+        self.assertEqual((failed, looked > 150), (0, True))
+
     def test_each_function_is_defined_in_its_file(self):
         for module, names in FUNCTIONS.items():
             for name in names:
